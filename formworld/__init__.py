@@ -1,0 +1,1 @@
+"""Formworld: which numbers forms give, and which forms are alike."""

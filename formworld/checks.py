@@ -1,0 +1,76 @@
+"""Whether values are what the document asks: integers, vectors, changes, coefficients."""
+
+from formworld.errors import InvalidChange, InvalidCoefficients, InvalidNumber, InvalidVector
+from formworld.limits import MOST_SIZE
+from formworld.tables import UNKNOWNS, determinant
+
+MOST_ENTRY = 10 ** 60 * 10 ** 15
+MOST_DIGITS = 80
+DIGITS = "0123456789"
+
+
+def is_integer(value):
+    """True and False are integers for Python, but not for the document."""
+    return isinstance(value, int) and not isinstance(value, bool)
+
+
+def is_within(value, least, most):
+    return is_integer(value) and least <= value <= most
+
+
+def are_within(value, many, size):
+    """Whether the value is a tuple of so many integers, none above this size."""
+    return isinstance(value, tuple) and len(value) == many and first_beyond(value, size) is None
+
+
+def first_beyond(values, size):
+    """The index of the first value that is no integer up to this size, None if there is none."""
+    for index, value in enumerate(values):
+        if not is_within(value, -size, size):
+            return index
+    return None
+
+
+def check_number(number, least, most):
+    if not is_within(number, least, most):
+        raise InvalidNumber(number)
+
+
+def check_other_than_nought(number, size):
+    if not is_within(number, -size, size) or number == 0:
+        raise InvalidNumber(number)
+
+
+def check_coefficients(coefficients):
+    if not isinstance(coefficients, tuple) or len(coefficients) not in UNKNOWNS:
+        raise InvalidCoefficients(None)
+    index = first_beyond(coefficients, MOST_SIZE)
+    if index is not None:
+        raise InvalidCoefficients(index)
+
+
+def check_vector(vector, many):
+    if not isinstance(vector, tuple) or len(vector) != many:
+        raise InvalidVector(None)
+    index = first_beyond(vector, MOST_ENTRY)
+    if index is not None:
+        raise InvalidVector(index)
+
+
+def check_change(change, many):
+    if not isinstance(change, tuple) or len(change) != many:
+        raise InvalidChange(None)
+    for index, row in enumerate(change):
+        if not are_within(row, many, MOST_ENTRY):
+            raise InvalidChange(index)
+    if abs(determinant(change)) != 1:
+        raise InvalidChange(None)
+
+
+def read_integer(word):
+    """The integer that is written with this word and no other one, None if there is none."""
+    digits = word.removeprefix("-")
+    if not 0 < len(digits) <= MOST_DIGITS or any([letter not in DIGITS for letter in digits]):
+        return None
+    number = int(word)
+    return number if str(number) == word else None

@@ -1,0 +1,142 @@
+"""Arithmetic with vectors, symmetric tables and changes, without any checks.
+
+What the properties of forms call builds new lists instead of changing old ones.
+"""
+
+UNKNOWNS = {3: 2, 6: 3, 10: 4, 15: 5}
+
+
+def dot(row, other):
+    """The sum of the products of numbers that stand at one place; a longer row is cut."""
+    return sum([left * right for left, right in zip(row, other)])
+
+
+def entry_index(row, column, many):
+    """Where the coefficient for two unknowns stands, `row` not being above `column`."""
+    return row * many - row * (row - 1) // 2 + column - row
+
+
+def entry(coefficients, row, column, many):
+    if row == column:
+        return 2 * coefficients[entry_index(row, row, many)]
+    return coefficients[entry_index(min(row, column), max(row, column), many)]
+
+
+def table_of(coefficients):
+    many = UNKNOWNS[len(coefficients)]
+    return tuple([tuple([entry(coefficients, row, column, many) for column in range(many)]) for row in range(many)])
+
+
+def coefficients_of(table):
+    many = len(table)
+    return tuple([
+        table[row][row] // 2 if row == column else table[row][column]
+        for row in range(many) for column in range(row, many)
+    ])
+
+
+def product_at(table, vector, other):
+    return dot(vector, [dot(row, other) for row in table])
+
+
+def table_between(table, vectors):
+    """The table of the products of these vectors with one another."""
+    images = [[dot(row, vector) for row in table] for vector in vectors]
+    return tuple([tuple([dot(vector, image) for image in images]) for vector in vectors])
+
+
+def columns_of(rows):
+    return tuple([tuple([row[index] for row in rows]) for index in range(len(rows))])
+
+
+def unit_rows(many):
+    return tuple([tuple([1 if row == column else 0 for column in range(many)]) for row in range(many)])
+
+
+def combined(vectors, numbers):
+    """The sum of the vectors, each times its number."""
+    return tuple([dot(numbers, column) for column in zip(*vectors)])
+
+
+def cofactors(rows):
+    """The numbers whose products with a further row, in front of these, add up to the determinant."""
+    many = len(rows) + 1
+    return [
+        (1 - index % 2 * 2) * determinant([row[:index] + row[index + 1:] for row in rows]) for index in range(many)
+    ]
+
+
+def determinant(rows):
+    if not rows:
+        return 1
+    if len(rows) == 2:
+        return rows[0][0] * rows[1][1] - rows[0][1] * rows[1][0]
+    return dot(rows[0], cofactors(rows[1:]))
+
+
+def inverse_change(change):
+    """The change that leads back; the determinant is 1 or -1, so it divides all."""
+    size = determinant(change)
+    columns = [
+        [size * (1 - index % 2 * 2) * number for number in cofactors(change[:index] + change[index + 1:])]
+        for index in range(len(change))
+    ]
+    return columns_of(columns)
+
+
+def joined_changes(change, other):
+    """The change that leads where the other one, and then this one, lead."""
+    columns = columns_of(other)
+    return tuple([tuple([dot(row, column) for column in columns]) for row in change])
+
+
+def first_square(rows):
+    """The index of an unknown whose square is there, None if there is none."""
+    for index, row in enumerate(rows):
+        if row[index] != 0:
+            return index
+    return None
+
+
+def with_square(rows):
+    """The table after one unknown is added to another one so that a square appears, None for noughts alone."""
+    for index, row in enumerate(rows):
+        for other, number in enumerate(row):
+            if number != 0:
+                change = [list(unit) for unit in unit_rows(len(rows))]
+                change[index] = [1 if place in (index, other) else 0 for place in range(len(rows))]
+                return table_between(rows, change)
+    return None
+
+
+def minors_of(table):
+    """Determinants of 0, 1, 2 .. rows, along some choice of unknowns, as long as they are not 0.
+
+    The divisions leave no rest: each entry is itself such a determinant (Bareiss).
+    """
+    minors = [1]
+    rows = table
+    while rows:
+        square = first_square(rows)
+        if square is None:
+            rows = with_square(rows)
+            if rows is None:
+                return minors
+            square = first_square(rows)
+        pivot = rows[square][square]
+        others = [index for index in range(len(rows)) if index != square]
+        rows = [
+            [(pivot * rows[row][column] - rows[row][square] * rows[square][column]) // minors[-1] for column in others]
+            for row in others
+        ]
+        minors.append(pivot)
+    return minors
+
+
+def diagonal_of(table):
+    """Numbers a1, a2 .. for which the form becomes a1 y1 y1 + a2 y2 y2 .. over fractions, if it is not flat.
+
+    The table counts each square twice; a quotient of two minors is their product but for a square.
+    """
+    minors = minors_of(table)
+    return [2 * before * behind for before, behind in zip(minors, minors[1:])]

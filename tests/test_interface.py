@@ -1,0 +1,51 @@
+"""What the interface lists exists: names, parameters, and where they are defined."""
+
+import importlib
+import inspect
+import unittest
+
+FUNCTIONS = {
+    "vectors": {"vectors_up_to": "form bound", "least_value": "form", "least_vectors": "form"},
+}
+METHODS = {
+    "read": "text", "value": "self vector", "product": "self vector other", "changed": "self change",
+    "times": "self many", "joined": "self other", "__init__": "self coefficients", "__str__": "self",
+    "__repr__": "self", "__eq__": "self other",
+}
+PROPERTIES = "coefficients unknowns table measure signature kind content is_even_between".split()
+
+
+def parameters(function):
+    return [(p.name, p.kind, p.default) for p in inspect.signature(function).parameters.values()]
+
+
+def plain(names):
+    kind = inspect.Parameter.POSITIONAL_OR_KEYWORD
+    return [(name, kind, inspect.Parameter.empty) for name in names.split()]
+
+
+class InterfaceTest(unittest.TestCase):
+
+    def test_functions(self):
+        for module, functions in FUNCTIONS.items():
+            loaded = importlib.import_module(f"formworld.{module}")
+            for name, names in functions.items():
+                function = getattr(loaded, name)
+                self.assertEqual(function.__module__, f"formworld.{module}")
+                self.assertEqual(parameters(function), plain(names), name)
+
+    def test_form(self):
+        from formworld.forms import Form
+        own = vars(Form)
+        self.assertEqual(Form.__module__, "formworld.forms")
+        for name, names in METHODS.items():
+            self.assertIn(name, own)
+            function = own[name].__func__ if name == "read" else own[name]
+            self.assertEqual(parameters(function), plain(names), name)
+        self.assertIsInstance(own["read"], staticmethod)
+        for name in PROPERTIES:
+            self.assertIsInstance(own[name], property, name)
+
+
+if __name__ == "__main__":
+    unittest.main()
