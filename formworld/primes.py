@@ -56,7 +56,7 @@ def prime_divisors(number):
         if rest % prime == 0:
             primes.append(prime)
             rest = split_power(rest, prime)[1]
-        prime = prime + 1
+        prime = prime + 1 if prime == 2 else prime + 2
     if rest > 1:
         primes.append(rest)
     return primes

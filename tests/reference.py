@@ -164,3 +164,168 @@ def skew_forms(seed, each, least=100, most=1000):
                 rows.append((skew, easy, forth, back))
                 found += 1
     return rows
+
+
+def own_changes(coefficients):
+    """How many own changes there are, and how many of them are proper: all tuples of vectors with the same table."""
+    rows = table(coefficients)
+    n = len(rows)
+    vectors = listing(coefficients, max(rows[i][i] // 2 for i in range(n)))
+    systems = [()]
+    for i in range(n):
+        shell = [v for v, m in vectors.items() if 2 * m == rows[i][i]]
+        systems = [s + (v,) for s in systems for v in shell
+                   if all(dot_table(rows, s[j], v) == rows[j][i] for j in range(i))]
+    signs = [determinant(s) for s in systems]
+    assert set(signs) <= {1, -1}
+    return len(signs), signs.count(1)
+
+
+def dot_table(rows, v, w):
+    return sum(v[i] * rows[i][j] * w[j] for i in range(len(v)) for j in range(len(w)))
+
+
+def least_of_bases(coefficients, most):
+    """The least tuple (squares, coefficients) of all bases of vectors with a value up to `most`."""
+    rows = table(coefficients)
+    n = len(rows)
+    vectors = sorted((m, v) for v, m in listing(coefficients, most).items() if m > 0)
+    best = [None]
+
+    def go(system, squares):
+        if len(system) == n - 1:
+            finish(system, squares)
+            return
+        for m, v in vectors:
+            if best[0] is not None and squares + (m,) > best[0][0][:len(squares) + 1]:
+                break
+            go(system + (v,), squares + (m,))
+
+    def finish(system, squares):
+        minors = [(-1) ** (n - 1 + k) * determinant([v[:k] + v[k + 1:] for v in system]) for k in range(n)]
+        if not any(minors):
+            return
+        for m, v in vectors:
+            if best[0] is not None and squares + (m,) > best[0][0]:
+                break
+            if abs(sum(a * b for a, b in zip(minors, v))) == 1:
+                whole = system + (v,)
+                own = tuple(dot_table(rows, whole[i], whole[j]) // (2 if i == j else 1)
+                            for i in range(n) for j in range(i, n))
+                key = (squares + (m,), own)
+                if best[0] is None or key < best[0]:
+                    best[0] = key
+
+    go((), ())
+    return best[0][1]
+
+
+def given_numbers(coefficients, most):
+    """All values from 1 to `most`, out of the whole box."""
+    *ranges, last = [range(-b, b + 1) for b in box(coefficients, most)]
+    square = coefficients[-1]
+    found = set()
+    for beginning in itertools.product(*ranges):
+        low = value(coefficients, beginning + (0,))
+        slope = value(coefficients, beginning + (1,)) - low - square
+        found.update([low + slope * y + square * y * y for y in last])
+    return {m for m in found if 1 <= m <= most}
+
+
+def joined(coefficients, other):
+    """The coefficients of a sum of two forms in unlike unknowns."""
+    upper, lower = table(coefficients), table(other) if len(other) > 1 else ((2 * other[0],),)
+    m, n = len(upper), len(upper) + len(lower)
+    rows = [list(upper[i]) + [0] * (n - m) for i in range(m)] + [[0] * m + list(row) for row in lower]
+    return tuple(rows[i][j] // (2 if i == j else 1) for i in range(n) for j in range(i, n))
+
+
+def sums(numbers, others, most):
+    """With 0 among both."""
+    return {a + b for a in numbers for b in others if a + b <= most}
+
+
+def diagonal_given(squares, most):
+    """The numbers from 1 to `most` that a1 x1 x1 + a2 x2 x2 + .. gives."""
+    found = {0}
+    for a in squares:
+        found = sums(found, [a * x * x for x in range(math.isqrt(most // a) + 1)], most)
+    return found - {0}
+
+
+def is_prime(number):
+    return number > 1 and all(number % d for d in range(2, math.isqrt(number) + 1))
+
+
+def primes_of(number):
+    """The primes that divide a number other than 0."""
+    number, found, d = abs(number), [], 2
+    while d * d <= number:
+        while number % d == 0:
+            found.append(d)
+            number //= d
+        d += 1
+    return sorted(set(found + ([number] if number > 1 else [])))
+
+
+def without_squares(number, p):
+    """The number without the squares of a prime in it: at the prime it has the same signs."""
+    while number % (p * p) == 0:
+        number //= p * p
+    return number
+
+
+def is_square_by_rests(number, p):
+    """By trying all rests: a square at p, if a square leaves the rest by a power of p that is high enough."""
+    if p == 0:
+        return number > 0
+    power, left = 0, number
+    while left % p == 0:
+        power, left = power + 1, left // p
+    modulus = p ** (power + (3 if p == 2 else 1))
+    return any((x * x - number) % modulus == 0 for x in range(modulus))
+
+
+def sign_by_rests(a, b, p):
+    """By trying all rests: 1 if a x x + b y y = z z leaves the same rest by a high power of p, not all divisible by p.
+
+    A solution with a number that p does not divide goes on to all powers, if it is one by p ** 3, by 2 ** 5 for 2.
+    """
+    if p == 0:
+        return -1 if a < 0 and b < 0 else 1
+    a, b = without_squares(a, p), without_squares(b, p)
+    modulus = 2 ** 5 if p == 2 else p ** 3
+    every, units = {}, {}
+    for z in range(modulus):
+        every[z * z % modulus] = True
+        if z % p:
+            units[z * z % modulus] = True
+    for x in {x * x % modulus for x in range(modulus)}:
+        for y in every:
+            rest = (a * x + b * y) % modulus
+            if rest in units or rest in every and (x in units or y in units):
+                return 1
+    return -1
+
+
+def diagonal_by_fractions(coefficients):
+    """Numbers a1, a2, .. for which the form becomes a1 y1 y1 + a2 y2 y2 .. over fractions, with whole a's."""
+    rows = [[Fraction(x, 2) for x in row] for row in table(coefficients)]
+    n = len(rows)
+    out = []
+    while rows:
+        size = len(rows)
+        at = next((i for i in range(size) if rows[i][i]), None)
+        if at is None:
+            i, j = next((i, j) for i in range(size) for j in range(size) if rows[i][j])
+            for k in range(size):
+                rows[i][k] += rows[j][k]
+            for k in range(size):
+                rows[k][i] += rows[k][j]
+            at = i
+        a = rows[at][at]
+        out.append(a.numerator * a.denominator)
+        rest = [i for i in range(size) if i != at]
+        rows = [[rows[i][j] - rows[i][at] * rows[at][j] / a for j in rest] for i in rest]
+    assert len(out) == n
+    return out

@@ -6,6 +6,19 @@ import unittest
 
 FUNCTIONS = {
     "vectors": {"vectors_up_to": "form bound", "least_value": "form", "least_vectors": "form"},
+    "alike": {
+        "least_form": "form", "change_between": "form other", "is_alike": "form other", "count_own": "form",
+        "count_own_proper": "form", "is_mirrored": "form",
+    },
+    "giving": {
+        "gives": "form number", "writings": "form number", "count_writings": "form number",
+        "count_proper": "form number", "missed": "form most", "gives_all": "form", "least_missed": "form",
+    },
+    "signs": {"sign": "number other place", "odd_places": "number other", "is_square_at": "number place"},
+    "places": {
+        "places_of": "form", "form_sign": "form place", "is_alike_at": "form other place",
+        "is_alike_over_fractions": "form other", "parting_place": "form other",
+    },
 }
 METHODS = {
     "read": "text", "value": "self vector", "product": "self vector other", "changed": "self change",
