@@ -69,6 +69,24 @@ def many_coefficients():
     return rows
 
 
+class ExamplesTest(unittest.TestCase):
+
+    def test_examples(self):
+        wide, main, circle = Form((2, 2, 3)), Form((1, 0, 5)), Form((1, 0, 1))
+        ball, four = Form((1, 0, 0, 1, 0, 1)), Form((1, 0, 0, 0, 1, 0, 0, 1, 0, 1))
+        root, tilted, eisen = Form((1, 0, -2)), Form.read("2 6 7"), Form((1, 1, 1))
+        self.assertEqual([wide.table, wide.measure, wide.signature, wide.kind, wide.content, wide.is_even_between,
+                          wide.value((1, -1)), wide.product((1, 0), (0, 1)),
+                          wide.changed(((1, 1), (0, 1))) == tilted],
+                         [((4, 2), (2, 6)), 20, (2, 0), "positive", 1, True, 3, 2, True])
+        self.assertEqual([str(wide.times(-3)), str(wide.joined(circle)), root.signature, root.kind,
+                          Form((1, 2, 1)).kind, Form((0, 0, 0)).content, eisen.is_even_between, repr(ball),
+                          ball.measure],
+                         ["-6 -6 -9", "2 2 0 0 3 0 0 1 0 1", (1, 1), "mixed", "flat", 0, False,
+                          "Form of 3 unknowns", 8])
+        self.assertEqual([main.unknowns, four.unknowns], [2, 4])
+
+
 class MakingTest(Case):
 
     def test_right_coefficients(self):

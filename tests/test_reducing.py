@@ -1,0 +1,88 @@
+"""Short bases, which the listing of skew forms rests on."""
+
+import unittest
+
+from formworld.reducing import multiple_step, nearest_quotient, short_basis, sign_step, sign_vectors
+from tests import reference
+
+
+def rank(vectors):
+    """How many of the vectors are independent."""
+    rows, found = [list(v) for v in vectors], 0
+    for column in range(len(rows[0])):
+        at = next((k for k in range(found, len(rows)) if rows[k][column]), None)
+        if at is None:
+            continue
+        rows[found], rows[at] = rows[at], rows[found]
+        for k in range(found + 1, len(rows)):
+            a, b = rows[found][column], rows[k][column]
+            rows[k] = [a * y - b * x for x, y in zip(rows[found], rows[k])]
+        found += 1
+    return found
+
+
+def successive_lengths(coefficients, most):
+    """For k from 1 on, the least value up to which k independent vectors are found."""
+    n = reference.unknowns(coefficients)
+    lengths, system = [], []
+    for m, vector in sorted((m, v) for v, m in reference.listing(coefficients, most).items() if m > 0):
+        if len(system) < n and rank(system + [vector]) > len(system):
+            system.append(vector)
+            lengths.append(m)
+    return lengths
+
+
+class ReducingTest(unittest.TestCase):
+
+    def test_nearest_quotient(self):
+        for divisor in range(1, 9):
+            for number in range(-40, 41):
+                found = nearest_quotient(number, divisor)
+                self.assertLessEqual(2 * abs(number - found * divisor), divisor)
+
+    def test_steps_shorten(self):
+        for skew, _, _, _ in reference.skew_forms(70, 4):
+            table = reference.table(skew)
+            for step in (multiple_step(table), sign_step(table)):
+                if step is not None:
+                    index, vector = step
+                    self.assertEqual(vector[index], 1)
+                    self.assertLess(reference.dot_table(table, vector, vector), table[index][index])
+            step = multiple_step(table)
+            if step is not None:
+                index, vector = step
+                other, many = next((k, x) for k, x in enumerate(vector) if k != index and x)
+                for worse in (many - 1, many + 1):
+                    tried = tuple(worse if k == other else x for k, x in enumerate(vector))
+                    self.assertGreaterEqual(reference.dot_table(table, tried, tried),
+                                            reference.dot_table(table, vector, vector))
+
+    def test_great_multiples_in_one_step(self):
+        self.assertEqual(multiple_step(((2, 60), (60, 1802))), (1, (-30, 1)))
+        self.assertEqual(multiple_step(((2, -61), (-61, 1864)))[1][0] in (30, 31), True)
+        self.assertIsNone(multiple_step(((2, 1), (1, 2))))
+        self.assertIsNone(multiple_step(((2, 0), (0, 2))))
+
+    def test_sign_vectors(self):
+        self.assertEqual(len(set(sign_vectors(3))), 27)
+        self.assertIn((-1, 0, 1), sign_vectors(3))
+
+    def test_bases(self):
+        """A basis, longest first; with up to four unknowns none has shorter vectors."""
+        for skew, easy, _, _ in reference.skew_forms(71, 4) + [(row, row, None, None) for row in reference.POSITIVE]:
+            basis = short_basis(reference.table(skew))
+            self.assertEqual(abs(reference.determinant(basis)), 1)
+            lengths = [reference.value(skew, vector) for vector in basis]
+            self.assertEqual(lengths, sorted(lengths, reverse=True))
+            if len(easy) < 15:
+                self.assertEqual(lengths[::-1], successive_lengths(easy, lengths[0]), skew)
+
+    def test_a_short_basis_stays(self):
+        for row in ((1, 0, 1), (3, 0, 2), reference.diagonal((4, 3, 2, 1))):
+            n = reference.unknowns(row)
+            self.assertEqual(short_basis(reference.table(row)),
+                             [tuple(int(i == j) for j in range(n)) for i in range(n)])
+
+
+if __name__ == "__main__":
+    unittest.main()
