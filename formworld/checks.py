@@ -1,7 +1,8 @@
-"""Whether values are what the document asks: integers, vectors, changes, coefficients."""
+"""Whether values are what the document asks: integers, discriminants, vectors, changes, coefficients."""
 
 from formworld.errors import InvalidChange, InvalidCoefficients, InvalidNumber, InvalidVector
-from formworld.limits import MOST_SIZE
+from formworld.limits import LEAST_DISCRIMINANT, MOST_DISCRIMINANT, MOST_SIZE
+from formworld.primes import is_square
 from formworld.tables import UNKNOWNS, determinant
 
 MOST_ENTRY = 10 ** 60 * 10 ** 15
@@ -16,6 +17,10 @@ def is_integer(value):
 
 def is_within(value, least, most):
     return is_integer(value) and least <= value <= most
+
+
+def is_discriminant(value):
+    return is_within(value, LEAST_DISCRIMINANT, MOST_DISCRIMINANT) and value % 4 < 2 and not is_square(value)
 
 
 def are_within(value, many, size):

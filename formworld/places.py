@@ -1,8 +1,6 @@
 """Forms at a place and over fractions."""
 
-from math import isqrt
-
-from formworld.primes import is_prime, prime_divisors
+from formworld.primes import is_square, next_prime, prime_divisors
 from formworld.requirements import require_form, require_place, require_placed
 from formworld.signs import is_local_square, sign_at
 from formworld.tables import diagonal_of
@@ -49,7 +47,7 @@ def parting_place(form, other):
     if form.signature != other.signature:
         return 0
     product = form.measure * other.measure
-    if isqrt(product) ** 2 != product:
+    if not is_square(product):
         return first_parting_prime(form, other)
     primes = sorted(set(bad_places(form)[1:] + bad_places(other)[1:]))
     for prime in primes:
@@ -62,9 +60,7 @@ def first_parting_prime(form, other):
     """A number that is no square is none at some primes, among those too that divide no measure."""
     prime = 2
     while are_alike_at_prime(form, other, prime):
-        prime = prime + 1
-        while not is_prime(prime):
-            prime = prime + 1
+        prime = next_prime(prime)
     return prime
 
 

@@ -1,4 +1,6 @@
-"""Primes, powers of them, and rests of squares."""
+"""Primes, powers of them, squares, and rests of squares."""
+
+from math import isqrt
 
 WITNESSES = (2, 3, 5, 7, 11)
 
@@ -47,6 +49,14 @@ def is_prime(number):
     return all([is_passed(number, witness) for witness in WITNESSES])
 
 
+def next_prime(number):
+    """The least prime above the number."""
+    prime = number + 1
+    while not is_prime(prime):
+        prime = prime + 1
+    return prime
+
+
 def prime_divisors(number):
     """All primes that divide a number other than 0, ascending."""
     rest = abs(number)
@@ -60,6 +70,11 @@ def prime_divisors(number):
     if rest > 1:
         primes.append(rest)
     return primes
+
+
+def is_square(number):
+    """Whether an integer is the square of one."""
+    return number >= 0 and isqrt(number) ** 2 == number
 
 
 def is_square_rest(number, prime):

@@ -1,10 +1,12 @@
-"""What the document asks of forms and places that are passed: each function raises the error that is due, or none."""
+"""What the document asks of forms, places and discriminants: each function raises the error that is due, or none."""
 
-from formworld.checks import first_beyond, is_within
-from formworld.errors import Flat, InvalidPlace, NotAForm, NotPositive, TooGreat
+from formworld.checks import first_beyond, is_discriminant, is_within
+from formworld.errors import Flat, InvalidDiscriminant, InvalidPlace, NotAForm, NotBinary, NotPositive, NotPrimitive
+from formworld.errors import TooGreat
 from formworld.forms import Form
 from formworld.limits import MOST_PLACED, MOST_SIZE, MOST_SMALL, MOST_UNKNOWNS
 from formworld.primes import is_prime
+from formworld.rings import discriminant_at
 
 
 def require_form(form):
@@ -15,6 +17,11 @@ def require_form(form):
 def require_place(place):
     if not is_within(place, 0, MOST_SIZE) or not (place == 0 or is_prime(place)):
         raise InvalidPlace(place)
+
+
+def require_discriminant(discriminant):
+    if not is_discriminant(discriminant):
+        raise InvalidDiscriminant(discriminant)
 
 
 def require_size(form, size):
@@ -39,3 +46,21 @@ def require_placed(form):
         raise Flat()
     require_size(form, MOST_PLACED)
     require_few_unknowns(form)
+
+
+def require_binary(form):
+    if not is_binary(form):
+        raise NotBinary(form)
+
+
+def is_binary(form):
+    if form.unknowns != 2:
+        return False
+    discriminant = discriminant_at(form.coefficients)
+    return is_discriminant(discriminant) and (discriminant > 0 or form.coefficients[0] > 0)
+
+
+def require_primitive_binary(form):
+    require_binary(form)
+    if form.content != 1:
+        raise NotPrimitive()

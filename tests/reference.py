@@ -329,3 +329,72 @@ def diagonal_by_fractions(coefficients):
         rows = [[rows[i][j] - rows[i][at] * rows[at][j] / a for j in rest] for i in rest]
     assert len(out) == n
     return out
+
+
+def split(number, p):
+    power = 0
+    while number % p == 0:
+        number, power = number // p, power + 1
+    return power, number
+
+
+def sign_by_rule(a, b, p):
+    """By the rule that the document tells in brackets."""
+    if p == 0:
+        return -1 if a < 0 and b < 0 else 1
+    (i, u), (j, v) = split(a, p), split(b, p)
+    if p == 2:
+        return (-1) ** (((u - 1) // 2 * ((v - 1) // 2) + i * ((v * v - 1) // 8) + j * ((u * u - 1) // 8)) % 2)
+
+    def by(number):
+        return 1 if pow(number, (p - 1) // 2, p) == 1 else -1
+
+    return by(-1) ** (i * j) * by(u) ** j * by(v) ** i
+
+
+def is_square_by_rule(number, p):
+    if p == 0:
+        return number > 0
+    power, u = split(number, p)
+    return power % 2 == 0 and (u % 8 == 1 if p == 2 else pow(u, (p - 1) // 2, p) == 1)
+
+
+def nought_by_rests(numbers, p):
+    """Whether a1 y1 y1 + a2 y2 y2 .. gives nought at a prime: by all rests by 32, or by the square of an odd prime.
+
+    Squares of the prime are taken out of the a's first; a solution with a number that p does not divide goes on then.
+    """
+    modulus = 32 if p == 2 else p * p
+    squares = {(y * y % modulus, y % p != 0) for y in range(modulus)}
+    reached = {(0, False)}
+    for a in numbers:
+        lean = without_squares(a, p) % modulus
+        reached = {((rest + lean * square) % modulus, some or unit) for rest, some in reached for square, unit in squares}
+    return (0, True) in reached
+
+
+def nought_by_rule(numbers, p):
+    """By what the document tells in brackets."""
+    if p == 0:
+        return min(numbers) < 0 < max(numbers)
+    d = math.prod(numbers)
+    s = math.prod(sign_by_rule(a, b, p) for a, b in itertools.combinations(numbers, 2))
+    if len(numbers) == 2:
+        return is_square_by_rule(-d, p)
+    if len(numbers) == 3:
+        return s == sign_by_rule(-1, -d, p)
+    if len(numbers) == 4:
+        return not is_square_by_rule(d, p) or s == sign_by_rule(-1, -1, p)
+    return True
+
+
+def barring_by_rule(numbers, most, measure=None):
+    """The least place up to `most`, or else among the primes of the measure, at which nought is not given.
+
+    The measure is that of a sum of squares if it is not told.
+    """
+    if not nought_by_rule(numbers, 0):
+        return 0
+    parts = numbers if measure is None else [2 * measure]
+    primes = sorted({p for p in range(2, most + 1) if is_prime(p)} | {p for a in parts for p in primes_of(a)})
+    return next((p for p in primes if not nought_by_rule(numbers, p)), None)

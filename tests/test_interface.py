@@ -19,6 +19,23 @@ FUNCTIONS = {
         "places_of": "form", "form_sign": "form place", "is_alike_at": "form other place",
         "is_alike_over_fractions": "form other", "parting_place": "form other",
     },
+    "noughts": {
+        "gives_nought_at": "form place", "gives_nought": "form", "barring_place": "form",
+        "gives_at": "form number place", "gives_over_fractions": "form number", "barred_number": "form number",
+        "nought_vector": "form",
+    },
+    "binary": {
+        "discriminant_of": "form", "is_reduced": "form", "leading": "form", "ring": "form",
+        "is_properly_alike": "form other", "proper_change": "form other",
+    },
+    "classes": {
+        "classes": "discriminant", "count_classes": "discriminant", "main_form": "discriminant", "opposite": "form",
+        "is_two_sided": "form", "classes_giving": "discriminant number",
+    },
+    "composing": {
+        "composed": "form other", "power": "form many", "order_of": "form", "square_roots": "form",
+        "composing_tables": "form other", "cyclic_parts": "discriminant",
+    },
 }
 METHODS = {
     "read": "text", "value": "self vector", "product": "self vector other", "changed": "self change",
