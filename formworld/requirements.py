@@ -1,8 +1,8 @@
 """What the document asks of forms, places and discriminants: each function raises the error that is due, or none."""
 
 from formworld.checks import first_beyond, is_discriminant, is_within
-from formworld.errors import Flat, InvalidDiscriminant, InvalidPlace, NotAForm, NotBinary, NotPositive, NotPrimitive
-from formworld.errors import TooGreat
+from formworld.errors import Flat, InvalidDiscriminant, InvalidPlace, NotAForm, NotBinary, NotMixed, NotPositive
+from formworld.errors import NotPrimitive, TooGreat
 from formworld.forms import Form
 from formworld.limits import MOST_PLACED, MOST_SIZE, MOST_SMALL, MOST_UNKNOWNS
 from formworld.primes import is_prime
@@ -21,6 +21,11 @@ def require_place(place):
 
 def require_discriminant(discriminant):
     if not is_discriminant(discriminant):
+        raise InvalidDiscriminant(discriminant)
+
+
+def require_mixed_discriminant(discriminant):
+    if not is_discriminant(discriminant) or discriminant < 0:
         raise InvalidDiscriminant(discriminant)
 
 
@@ -64,3 +69,10 @@ def require_primitive_binary(form):
     require_binary(form)
     if form.content != 1:
         raise NotPrimitive()
+
+
+def require_mixed_primitive(form):
+    require_binary(form)
+    if discriminant_at(form.coefficients) < 0:
+        raise NotMixed()
+    require_primitive_binary(form)

@@ -52,12 +52,17 @@ def path_behind(path, discriminant):
     return behind, right, (many * right[0] - left[0], many * right[1] - left[1])
 
 
+def reduced_behind(row, discriminant):
+    """The first reduced form on the way from this one."""
+    while not is_reduced_row(row, discriminant):
+        row = row_behind(row, discriminant)
+    return row
+
+
 def ring_of(row):
     """All reduced forms of the class, as they follow one another, the leading one first."""
     discriminant = discriminant_at(row)
-    start = row
-    while not is_reduced_row(start, discriminant):
-        start = row_behind(start, discriminant)
+    start = reduced_behind(row, discriminant)
     if discriminant < 0:
         return [start]
     rows = [start]
@@ -87,11 +92,11 @@ def change_along(row, other, leading):
     return joined_changes(change_to(row, leading), inverse_change(change_to(other, leading)))
 
 
-def change_around(leading):
-    """The own proper change that comes of the way around a whole ring."""
-    discriminant = discriminant_at(leading)
-    path = path_behind((leading, (1, 0), (0, 1)), discriminant)
-    while path[0] != leading:
+def change_around(reduced):
+    """The own proper change that comes of the way from a mixed reduced form around its ring."""
+    discriminant = discriminant_at(reduced)
+    path = path_behind((reduced, (1, 0), (0, 1)), discriminant)
+    while path[0] != reduced:
         path = path_behind(path, discriminant)
     return columns_of(path[1:])
 

@@ -36,6 +36,19 @@ FUNCTIONS = {
         "composed": "form other", "power": "form many", "order_of": "form", "square_roots": "form",
         "composing_tables": "form other", "cyclic_parts": "discriminant",
     },
+    "genera": {
+        "marks": "discriminant", "genus_of": "form", "genera": "discriminant", "count_genera": "discriminant",
+        "is_of_genus": "form other",
+    },
+    "units": {
+        "least_unit": "discriminant", "least_minus_unit": "discriminant", "unit_power": "discriminant many",
+        "turn": "form",
+    },
+    "solving": {
+        "is_solved": "form number", "solutions_in_box": "form number size", "families": "form number",
+        "least_member": "form vector", "is_one_family": "form vector other",
+    },
+    "neighbours": {"is_rich": "primes number", "neighbours": "primes", "count_rich": "primes most"},
 }
 METHODS = {
     "read": "text", "value": "self vector", "product": "self vector other", "changed": "self change",
