@@ -1,15 +1,17 @@
 """Which positive forms are alike, and the own changes of a form."""
 
-from formworld.bases import least_bases
+from formworld.bases import basis_of, least_system, matching_rest, own_systems, shells_of
 from formworld.forms import Form
 from formworld.requirements import require_few_unknowns, require_form, require_positive_small
-from formworld.tables import coefficients_of, columns_of, determinant, inverse_change, joined_changes, table_between
+from formworld.tables import coefficients_of, columns_of, combined, determinant, inverse_change, joined_changes
+from formworld.tables import table_between
 
 
 def least_form(form):
     """The least form of all that are alike to this one."""
     require_one(form)
-    return Form(least_coefficients(form.table, least_bases(form.table)))
+    table = basis_table(form)
+    return Form(coefficients_of(table_between(table, least_system(table, shells_of(table)))))
 
 
 def change_between(form, other):
@@ -17,11 +19,17 @@ def change_between(form, other):
     require_two(form, other)
     if form.unknowns != other.unknowns or form.measure != other.measure:
         return None
-    bases = least_bases(form.table)
-    other_bases = least_bases(other.table)
-    if least_coefficients(form.table, bases) != least_coefficients(other.table, other_bases):
+    basis = basis_of(form.table)
+    other_basis = basis_of(other.table)
+    table = table_between(form.table, basis)
+    wanted = table_between(other.table, other_basis)
+    if lengths_of(table) != lengths_of(wanted):
         return None
-    return joined_changes(columns_of(bases[0]), inverse_change(columns_of(other_bases[0])))
+    system = matching_rest(table, shells_of(table), [], wanted)
+    if system is None:
+        return None
+    vectors = [combined(basis, numbers) for numbers in system]
+    return joined_changes(columns_of(vectors), inverse_change(columns_of(other_basis)))
 
 
 def is_alike(form, other):
@@ -30,31 +38,44 @@ def is_alike(form, other):
 
 
 def count_own(form):
-    """How many own changes the form has: as many as there are bases in which it becomes its least form."""
-    require_one(form)
-    return len(least_bases(form.table))
+    """How many own changes the form has."""
+    return product_count(all_own_systems(form))
 
 
 def count_own_proper(form):
-    """How many of the own changes are proper: those between bases of one determinant."""
-    require_one(form)
-    signs = basis_signs(form)
-    return signs.count(signs[0])
+    """How many of the own changes are proper: half of them if one is not."""
+    rows = all_own_systems(form)
+    return product_count(rows) // 2 if has_improper(rows) else product_count(rows)
 
 
 def is_mirrored(form):
     """Whether some own change is not proper."""
+    return has_improper(all_own_systems(form))
+
+
+def product_count(rows):
+    count = 1
+    for systems in rows:
+        count = count * len(systems)
+    return count
+
+
+def has_improper(rows):
+    return any([determinant(system) == -1 for systems in rows for system in systems])
+
+
+def all_own_systems(form):
     require_one(form)
-    signs = basis_signs(form)
-    return signs.count(signs[0]) < len(signs)
+    table = basis_table(form)
+    return own_systems(table, shells_of(table))
 
 
-def basis_signs(form):
-    return [determinant(basis) for basis in least_bases(form.table)]
+def basis_table(form):
+    return table_between(form.table, basis_of(form.table))
 
 
-def least_coefficients(table, bases):
-    return coefficients_of(table_between(table, bases[0]))
+def lengths_of(table):
+    return [row[index] for index, row in enumerate(table)]
 
 
 def require_last(form):

@@ -1,97 +1,167 @@
-"""Writings, counted and listed without going through all vectors.
+"""Writings, found and counted without going through all vectors.
 
 The last two numbers of a vector stand apart. Whatever the numbers ahead of them are, these shift the last two by
 some integers, and leave one of finitely many kinds of pairs to be added. So the pairs of each kind are listed once.
-With more than two unknowns this saves the longest loops. Lengths are as in the listing: twice the values.
+Lengths are as in the listing: twice the values.
+
+Of a vector and its opposite only that one is looked at whose first number is not below 0, if there are more than two
+unknowns. The vectors with one first number are a slice.
 """
 
-from formworld.listing import beginnings, extended, levels_of
+from math import isqrt
+
+from formworld.listing import extended, levels_of, span
 from formworld.tables import dot
 
 
-def fibre(table, beginning, rest):
-    """What a beginning leaves to be added: the tuple (beginning, shift, kind, length).
+def slices_of(levels, most):
+    """For each first number the pair (weight, rows): how many vectors stand for each one there, and the beginning.
+
+    A vector stands for itself, and for its opposite unless this is in the slice, too.
+    """
+    if len(levels) == 2:
+        return [(1, [((), 0)])]
+    pivot, divisor, _ = levels[0]
+    return [
+        (2 if first > 0 else 1, [((first,), pivot * first * first)])
+        for first in range(isqrt(divisor * most // pivot) + 1)
+    ]
+
+
+def fibres(table, levels, rows, most):
+    """What the beginnings of a slice leave to be added: tuples (beginning, shift, kind, length).
 
     A vector that goes on with the numbers of a pair, less the shift, has this length and that of the pair.
     """
-    first, both, second = table[-2][-2], table[-2][-1], table[-1][-1]
+    for level in levels[1:-2]:
+        rows = extended(rows, level, most)
+    above, below = table[-2], table[-1]
+    first, both, second = above[-2], above[-1], below[-1]
     measure = first * second - both * both
-    left = dot(beginning, table[-2])
-    right = dot(beginning, table[-1])
-    up = (second * left - both * right) // measure
-    down = (first * right - both * left) // measure
-    left = left - first * up - both * down
-    right = right - both * up - second * down
-    excess = second * left * left - 2 * both * left * right + first * right * right
-    return beginning, (up, down), (left, right), (rest + excess) // measure
-
-
-def fibres(table, most):
-    rows = beginnings(levels_of(table)[:-2], most)
-    return [fibre(table, beginning, rest) for beginning, rest in rows]
+    found = []
+    for beginning, rest in rows:
+        left = dot(beginning, above)
+        right = dot(beginning, below)
+        up = (second * left - both * right) // measure
+        down = (first * right - both * left) // measure
+        left = left - first * up - both * down
+        right = right - both * up - second * down
+        excess = second * left * left - 2 * both * left * right + first * right * right
+        found.append((beginning, (up, down), (left, right), (rest + excess) // measure))
+    return found
 
 
 def pairs_of(table, kind, most):
-    """All pairs of this kind with a length up to `most`, as tuples (1, number, number), with their lengths.
-
-    They are vectors whose first number is 1, with a table in which the kind stands beside the last two unknowns.
-    """
+    """All pairs of this kind with a length up to `most`, as tuples (length, number, number)."""
     left, right = kind
     first, both, second = table[-2][-2], table[-2][-1], table[-1][-1]
-    levels = levels_of(((0, left, right), (left, first, both), (right, both, second)))
-    rows = [((1,), levels[0][0])]
-    for level in levels[1:]:
-        rows = extended(rows, level, most)
-    return rows
+    measure = first * second - both * both
+    middle = second * left - both * right
+    pairs = []
+    for upper in span(measure, middle, isqrt(measure * (second * most + right * right) + middle * middle)):
+        slope = both * upper + right
+        base = (first * upper + 2 * left) * upper
+        lowers = span(second, slope, isqrt(second * (most - base) + slope * slope))
+        pairs.extend([(base + (2 * slope + second * lower) * lower, upper, lower) for lower in lowers])
+    return pairs
 
 
 def pairs_by_length(table, kind, most):
     pairs = {}
-    for (_, left, right), length in pairs_of(table, kind, most):
+    for length, upper, lower in pairs_of(table, kind, most):
         if length not in pairs:
             pairs[length] = []
-        pairs[length].append((left, right))
+        pairs[length].append((upper, lower))
     return pairs
 
 
 def vectors_of_length(table, length):
     """All vectors of this very length."""
+    levels = levels_of(table)
     known = {}
     vectors = []
-    for beginning, (up, down), kind, low in fibres(table, length):
-        if kind not in known:
-            known[kind] = pairs_by_length(table, kind, length)
-        pairs = known[kind].get(length - low, ())
-        vectors.extend([beginning + (left - up, right - down) for left, right in pairs])
+    for weight, rows in slices_of(levels, length):
+        for beginning, (up, down), kind, low in fibres(table, levels, rows, length):
+            if kind not in known:
+                known[kind] = pairs_by_length(table, kind, length)
+            pairs = known[kind].get(length - low, ())
+            found = [beginning + (upper - up, lower - down) for upper, lower in pairs]
+            vectors.extend(found)
+            if weight == 2:
+                vectors.extend([tuple([-number for number in vector]) for vector in found])
     return vectors
 
 
-def count_of_length(table, length):
-    """How many vectors of this very length there are."""
+def has_length(table, length):
+    """Whether some vector has this very length."""
+    levels = levels_of(table)
     known = {}
-    count = 0
-    for _, _, kind, low in fibres(table, length):
-        if kind not in known:
-            pairs = pairs_by_length(table, kind, length)
-            known[kind] = {size: len(pairs[size]) for size in pairs}
-        count = count + known[kind].get(length - low, 0)
-    return count
+    for _, rows in slices_of(levels, length):
+        for _, _, kind, low in fibres(table, levels, rows, length):
+            if kind not in known:
+                known[kind] = {size: True for size, _, _ in pairs_of(table, kind, length)}
+            if length - low in known[kind]:
+                return True
+    return False
 
 
-def lengths_mask(table, most):
-    """An integer whose bit k, for k up to `most`, is 1 exactly if some vector has the length k."""
+def counts_of_lengths(table, lengths):
+    """How many vectors there are of each of these lengths, as a dict."""
+    most = max(lengths)
+    levels = levels_of(table)
+    known = {}
+    counts = {length: 0 for length in lengths}
+    for weight, rows in slices_of(levels, most):
+        for _, _, kind, low in fibres(table, levels, rows, most):
+            if kind not in known:
+                known[kind] = sizes_counted(pairs_of(table, kind, most))
+            for length in lengths:
+                counts[length] = counts[length] + weight * known[kind].get(length - low, 0)
+    return counts
+
+
+def sizes_counted(pairs):
+    counts = {}
+    for length, _, _ in pairs:
+        counts[length] = counts.get(length, 0) + 1
+    return counts
+
+
+def lengths_mask(table, wanted):
+    """An integer whose bit k is 1 only if some vector has the length k; so it is for all bits that are 1 in `wanted`.
+
+    As soon as all these are met, the slices left are of no interest.
+    """
+    most = wanted.bit_length() - 1
+    levels = levels_of(table)
+    known = {}
+    mask = 0
+    for _, rows in slices_of(levels, most):
+        for kind, lows in lows_by_kind(fibres(table, levels, rows, most)):
+            if kind not in known:
+                known[kind] = mask_of([length for length, _, _ in pairs_of(table, kind, most)])
+            least, pairs_mask = known[kind]
+            for low in lows:
+                mask = mask | (pairs_mask << (low + least))
+        if mask & wanted == wanted:
+            return mask
+    return mask
+
+
+def lows_by_kind(rows):
+    """The different lengths of the fibres of each kind."""
     lows = {}
-    for _, _, kind, low in fibres(table, most):
+    for _, _, kind, low in rows:
         if kind not in lows:
             lows[kind] = {}
         lows[kind][low] = True
+    return [(kind, list(lows[kind])) for kind in lows]
+
+
+def mask_of(lengths):
+    """The least length, and an integer whose bit k is 1 exactly if the length is there that is greater by k."""
+    least = min(lengths)
     mask = 0
-    for kind in lows:
-        lengths = [length for _, length in pairs_of(table, kind, most)]
-        least = min(lengths)
-        pairs_mask = 0
-        for length in lengths:
-            pairs_mask = pairs_mask | (1 << (length - least))
-        for low in lows[kind]:
-            mask = mask | (pairs_mask << (low + least))
-    return mask
+    for length in sorted(set(lengths)):
+        mask = mask | (1 << (length - least))
+    return least, mask

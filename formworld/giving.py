@@ -1,20 +1,23 @@
 """Which numbers positive forms give, and how often."""
 
 from formworld.checks import check_number
-from formworld.fibres import count_of_length, lengths_mask, vectors_of_length
+from formworld.fibres import counts_of_lengths, has_length, lengths_mask, vectors_of_length
 from formworld.limits import MOST_NUMBER
+from formworld.primes import prime_divisors
 from formworld.reducing import short_basis, vectors_from
 from formworld.requirements import require_form, require_positive_small
 from formworld.tables import table_between
 
-# A positive form that gives all numbers up to this one gives all (Bhargava, Hanke).
+# A positive form that gives all numbers up to this one gives all (Bhargava, Hanke); if it is even between, so it is
+# with a lesser one (Conway, Schneeberger, Bhargava).
 LAST_TOLD = 290
+LAST_TOLD_EVEN = 15
 
 
 def gives(form, number):
     """Whether the form gives the number."""
     require_asked(form, number)
-    return is_given(lengths_mask(short_table(form), 2 * number), number)
+    return has_length(short_table(form), 2 * number)
 
 
 def writings(form, number):
@@ -27,33 +30,40 @@ def writings(form, number):
 def count_writings(form, number):
     """How many writings of the number there are."""
     require_asked(form, number)
-    return count_of_length(short_table(form), 2 * number)
+    return counts_of_lengths(short_table(form), (2 * number,))[2 * number]
 
 
 def count_proper(form, number):
-    """How many of them have numbers without a common divisor above 1."""
+    """How many of them have numbers without a common divisor above 1.
+
+    Those with a common divisor are left out for each prime, those with two put back for both, and so on (Moebius).
+    """
     require_asked(form, number)
-    return proper_count(short_table(form), number)
+    parts = [(divisor, sign) for divisor, sign in signed_divisors(number) if number % (divisor * divisor) == 0]
+    lengths = [2 * number // (divisor * divisor) for divisor, _ in parts]
+    counts = counts_of_lengths(short_table(form), lengths)
+    return sum([sign * counts[length] for (_, sign), length in zip(parts, lengths)])
 
 
 def missed(form, most):
     """The integers from 1 to `most` that the form does not give, ascending."""
     require_asked(form, most)
-    return tuple(missed_numbers(form, most))
+    return tuple(missed_numbers(short_table(form), most))
 
 
 def gives_all(form):
     """Whether the form gives each integer from 1 on."""
-    require_form(form)
-    require_positive_small(form)
-    return missed_numbers(form, LAST_TOLD) == []
+    return least_missed(form) is None
 
 
 def least_missed(form):
     """The least integer from 1 on that the form does not give, None if it gives all."""
     require_form(form)
     require_positive_small(form)
-    numbers = missed_numbers(form, LAST_TOLD)
+    table = short_table(form)
+    numbers = missed_numbers(table, LAST_TOLD_EVEN)
+    if not numbers and not form.is_even_between:
+        numbers = missed_numbers(table, LAST_TOLD)
     return numbers[0] if numbers else None
 
 
@@ -67,21 +77,18 @@ def short_table(form):
     return table_between(form.table, short_basis(form.table))
 
 
-def is_given(mask, number):
-    return mask >> (2 * number) & 1 == 1
+def missed_numbers(table, most):
+    """The numbers up to `most` that are no values, ascending."""
+    wanted = 0
+    for number in range(1, most + 1):
+        wanted = wanted | (1 << (2 * number))
+    mask = lengths_mask(table, wanted)
+    return [number for number in range(1, most + 1) if mask >> (2 * number) & 1 == 0]
 
 
-def missed_numbers(form, most):
-    mask = lengths_mask(short_table(form), 2 * most)
-    return [number for number in range(1, most + 1) if not is_given(mask, number)]
-
-
-def proper_count(table, number):
-    """A writing whose numbers have the greatest common divisor d is d times a proper one of number / (d d)."""
-    count = count_of_length(table, 2 * number)
-    divisor = 2
-    while divisor * divisor <= number:
-        if number % (divisor * divisor) == 0:
-            count = count - proper_count(table, number // (divisor * divisor))
-        divisor = divisor + 1
-    return count
+def signed_divisors(number):
+    """Products of different primes that divide the number, with 1 for an even number of primes, otherwise -1."""
+    parts = [(1, 1)]
+    for prime in prime_divisors(number):
+        parts = parts + [(divisor * prime, -sign) for divisor, sign in parts]
+    return parts

@@ -1,6 +1,9 @@
-"""Short bases for positive tables: what makes it possible to list vectors of skew forms."""
+"""Short bases for positive tables: what makes it possible to list vectors of skew forms.
 
-from formworld.tables import combined, dot, product_at, table_between, unit_rows
+A step is a pair: the index of a basis vector, and the numbers along the basis of a shorter one for its place.
+"""
+
+from formworld.tables import combined, dot, unit_rows
 
 
 def nearest_quotient(number, divisor):
@@ -9,32 +12,52 @@ def nearest_quotient(number, divisor):
 
 
 def multiple_step(table):
-    """A basis vector that becomes shorter by a multiple of another one, and the new one, None if there is none."""
-    units = unit_rows(len(table))
+    """A step that adds a multiple of one other basis vector, None if there is none."""
     for index, row in enumerate(table):
         for other, both in enumerate(row):
-            many = 0 if index == other else -nearest_quotient(both, table[other][other])
-            if many * (2 * both + many * table[other][other]) < 0:
-                return index, combined((units[index], units[other]), (1, many))
+            if index != other and 2 * abs(both) > table[other][other]:
+                numbers = [0] * len(table)
+                numbers[index] = 1
+                numbers[other] = -nearest_quotient(both, table[other][other])
+                return index, tuple(numbers)
     return None
-
-
-def sign_vectors(many):
-    """All vectors of the numbers -1, 0 and 1."""
-    vectors = [()]
-    for _ in range(many):
-        vectors = [vector + (number,) for vector in vectors for number in (-1, 0, 1)]
-    return vectors
 
 
 def sign_step(table):
-    """Likewise for sums and differences of several basis vectors."""
-    for vector in sign_vectors(len(table)):
-        length = product_at(table, vector, vector)
-        for index, number in enumerate(vector):
-            if number == 1 and length < table[index][index]:
-                return index, vector
+    """A step to a sum or difference of several basis vectors, None if there is none.
+
+    Such sums are built up, the first sign being a plus, as tuples (signs, their products with the basis vectors,
+    length, index of the longest basis vector in it).
+    """
+    sums = []
+    for index, row in enumerate(table):
+        longer = [((0,) * index + (1,), row, row[index], index)]
+        for signs, image, length, longest in sums:
+            top = index if row[index] > table[longest][longest] else longest
+            longer.append((signs + (0,), image, length, longest))
+            for sign in (1, -1):
+                total = length + row[index] + 2 * sign * image[index]
+                if total < table[top][top]:
+                    return step_to(signs + (sign,), top, len(table))
+                longer.append((signs + (sign,), [one + sign * by for one, by in zip(image, row)], total, top))
+        sums = longer
     return None
+
+
+def step_to(signs, index, many):
+    """The step to this sum or its opposite, in which the vector that goes has a plus."""
+    return index, tuple([sign * signs[index] for sign in signs]) + (0,) * (many - len(signs))
+
+
+def put(basis, rows, step):
+    """Puts the new vector in its place, in the basis and in its table."""
+    index, numbers = step
+    basis[index] = combined(basis, numbers)
+    image = combined(rows, numbers)
+    for place, product in enumerate(image):
+        rows[place][index] = product
+    rows[index] = list(image)
+    rows[index][index] = dot(numbers, image)
 
 
 def short_basis(table):
@@ -43,14 +66,12 @@ def short_basis(table):
     With up to four unknowns its lengths are the least ones that any basis has (Minkowski).
     """
     basis = list(unit_rows(len(table)))
-    current = table
-    step = multiple_step(current) or sign_step(current)
+    rows = [list(row) for row in table]
+    step = multiple_step(rows) or sign_step(rows)
     while step is not None:
-        index, numbers = step
-        basis[index] = combined(basis, numbers)
-        current = table_between(table, basis)
-        step = multiple_step(current) or sign_step(current)
-    lengths = [(-current[index][index], index) for index in range(len(basis))]
+        put(basis, rows, step)
+        step = multiple_step(rows) or sign_step(rows)
+    lengths = [(-rows[index][index], index) for index in range(len(basis))]
     return [basis[index] for _, index in sorted(lengths)]
 
 

@@ -1,8 +1,9 @@
 """Short bases, which the listing of skew forms rests on."""
 
+import itertools
 import unittest
 
-from formworld.reducing import multiple_step, nearest_quotient, short_basis, sign_step, sign_vectors
+from formworld.reducing import multiple_step, nearest_quotient, short_basis, sign_step
 from tests import reference
 
 
@@ -63,9 +64,21 @@ class ReducingTest(unittest.TestCase):
         self.assertIsNone(multiple_step(((2, 1), (1, 2))))
         self.assertIsNone(multiple_step(((2, 0), (0, 2))))
 
-    def test_sign_vectors(self):
-        self.assertEqual(len(set(sign_vectors(3))), 27)
-        self.assertIn((-1, 0, 1), sign_vectors(3))
+    def test_sign_steps(self):
+        """There is a step exactly if some sum of basis vectors is shorter than the longest one in it."""
+        rows = list(reference.POSITIVE) + [row for row, _, _, _ in reference.skew_forms(73, 3, 20, 300)]
+        none = 0
+        for table in map(reference.table, rows):
+            n = len(table)
+            step = sign_step(table)
+            shorter = any(reference.dot_table(table, signs, signs) < max(table[i][i] for i in range(n) if signs[i])
+                          for signs in itertools.product((-1, 0, 1), repeat=n) if any(signs))
+            self.assertIs(step is not None, shorter, table)
+            none += step is None
+            if step is not None:
+                self.assertLessEqual(set(step[1]), {-1, 0, 1})
+                self.assertEqual(len(step[1]), n)
+        self.assertGreater(none, 10)
 
     def test_bases(self):
         """A basis, longest first; with up to four unknowns none has shorter vectors."""
