@@ -60,7 +60,7 @@ def cyclic_parts(discriminant):
         for many in part_counts(orders, prime):
             parts = parts + [1] * (many - len(parts))
             parts = [part * prime if index < many else part for index, part in enumerate(parts)]
-    return tuple(reversed(parts))
+    return tuple(parts[::-1])
 
 
 def require_composable(form, other):

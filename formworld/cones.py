@@ -58,14 +58,14 @@ def without_common(numbers):
     """
     divisor = gcd(numbers[0], numbers[1], numbers[2])
     lean = [number // divisor for number in numbers]
-    tops = [1, 1, 1]
+    tops = []
     for place in range(3):
         left, right = (place + 1) % 3, (place + 2) % 3
         common = gcd(lean[left], lean[right])
         lean[left] = lean[left] // common
         lean[right] = lean[right] // common
         lean[place] = lean[place] * common
-        tops[place] = common
+        tops.append(common)
     return lean, tops
 
 

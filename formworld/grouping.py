@@ -2,7 +2,7 @@
 
 from math import gcd, isqrt
 
-from formworld.rings import leading_of, main_row, ring_of
+from formworld.rings import discriminant_at, leading_of, main_row, ring_of
 
 
 def class_rows(discriminant):
@@ -37,14 +37,16 @@ def positive_rows(discriminant):
 
 
 def mixed_rows(discriminant):
-    """All reduced primitive forms of a discriminant above 0."""
+    """All reduced primitive forms of a discriminant above 0 whose first coefficient is below 0.
+
+    In a ring every second form is such a one, the leading form among them.
+    """
     rows = []
     root = isqrt(discriminant)
     for both in range(2 - discriminant % 2, root + 1, 2):
         product = (discriminant - both * both) // 4
         for first in range((root - both) // 2 + 1, (root + both) // 2 + 1):
             if product % first == 0:
-                rows.append((first, both, -(product // first)))
                 rows.append((-first, both, product // first))
     return [row for row in rows if is_primitive(row)]
 
@@ -54,24 +56,23 @@ def opposite_row(row):
 
 
 def bezout(number, other):
-    """The greatest common divisor from 0 on, and two integers that make it out of both."""
+    """The greatest common divisor or its opposite, and two integers that make it out of both."""
     rows = [(number, 1, 0), (other, 0, 1)]
     while rows[1][0] != 0:
         many = rows[0][0] // rows[1][0]
         rows = [rows[1], tuple([left - many * right for left, right in zip(rows[0], rows[1])])]
-    divisor, left, right = rows[0]
-    return (divisor, left, right) if divisor > 0 else (-divisor, -left, -right)
+    return rows[0]
 
 
 def united(row, other):
-    """A form of the product of both classes, before it is reduced, and the divisor that has been taken out.
+    """A form of the product of both classes, before it is reduced, and the common divisor that has been taken out.
 
     This is the composition of Gauss in the way of Arndt: the middle coefficient leaves the rests of those of both
     forms, by twice their first coefficients without the divisor.
     """
     first, both, _ = row
     other_first, other_both, _ = other
-    discriminant = both * both - 4 * first * row[2]
+    discriminant = discriminant_at(row)
     half = (both + other_both) // 2
     inner, left, right = bezout(first, other_first)
     divisor, inside, outside = bezout(inner, half)
@@ -89,8 +90,7 @@ def product_row(row, other):
 
 def power_row(row, many):
     """The leading form of the power of the class, by squaring; the opposite class undoes."""
-    discriminant = row[1] * row[1] - 4 * row[0] * row[2]
-    power = leading_of(main_row(discriminant))
+    power = leading_of(main_row(discriminant_at(row)))
     square = leading_of(row) if many >= 0 else opposite_row(row)
     rest = abs(many)
     while rest > 0:
