@@ -53,10 +53,10 @@ def greatest_root(number):
 def without_common(numbers):
     """Three numbers without squares in them are made free of common divisors, two by two.
 
-    What is a common divisor of two of them must divide the unknown of the third one: it goes over to this coefficient,
-    and the numbers that are told beside are what the unknowns are times then.
+    What is a common divisor of two of them must divide the unknown of the third one, and goes over to its coefficient.
+    The second list tells how many times its new unknown each old one is.
     """
-    divisor = gcd(numbers[0], numbers[1], numbers[2])
+    divisor = gcd(gcd(numbers[0], numbers[1]), numbers[2])
     lean = [number // divisor for number in numbers]
     tops = []
     for place in range(3):

@@ -64,12 +64,11 @@ def genus_row(row):
 def value_free_of(row, mark):
     """A value of a primitive form that has no common divisor with the mark.
 
-    The mark tells the same of all of them, so it does not matter that another one may divide this value.
+    The mark tells the same of all of them, so it does not matter that another one may divide this value. A prime that
+    divides the first and the last coefficient, and the discriminant, would divide the middle one, too.
     """
-    first, both, second = row
     prime = mark if mark % 2 == 1 else 2
-    values = [value for value in (first, second, first + both + second) if value % prime != 0]
-    return values[0]
+    return row[0] if row[0] % prime != 0 else row[2]
 
 
 def told_by(mark, number):

@@ -20,7 +20,7 @@ def class_rows(discriminant):
 
 
 def is_primitive(row):
-    return gcd(row[0], row[1], row[2]) == 1
+    return gcd(gcd(row[0], row[1]), row[2]) == 1
 
 
 def positive_rows(discriminant):
