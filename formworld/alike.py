@@ -1,6 +1,6 @@
 """Which positive forms are alike, and the own changes of a form."""
 
-from formworld.bases import basis_of, least_system, matching_rest, own_systems, shells_of
+from formworld.bases import least_basis, least_system, matching_rest, own_systems, shells_of
 from formworld.forms import Form
 from formworld.requirements import require_few_unknowns, require_form, require_positive_small
 from formworld.tables import coefficients_of, columns_of, combined, determinant, inverse_change, joined_changes
@@ -10,7 +10,7 @@ from formworld.tables import table_between
 def least_form(form):
     """The least form of all that are alike to this one."""
     require_one(form)
-    table = basis_table(form)
+    table = least_basis(form.table)[1]
     return Form(coefficients_of(table_between(table, least_system(table, shells_of(table)))))
 
 
@@ -19,10 +19,8 @@ def change_between(form, other):
     require_two(form, other)
     if form.unknowns != other.unknowns or form.measure != other.measure:
         return None
-    basis = basis_of(form.table)
-    other_basis = basis_of(other.table)
-    table = table_between(form.table, basis)
-    wanted = table_between(other.table, other_basis)
+    basis, table = least_basis(form.table)
+    other_basis, wanted = least_basis(other.table)
     if lengths_of(table) != lengths_of(wanted):
         return None
     system = matching_rest(table, shells_of(table), [], wanted)
@@ -66,12 +64,8 @@ def has_improper(rows):
 
 def all_own_systems(form):
     require_one(form)
-    table = basis_table(form)
+    table = least_basis(form.table)[1]
     return own_systems(table, shells_of(table))
-
-
-def basis_table(form):
-    return table_between(form.table, basis_of(form.table))
 
 
 def lengths_of(table):

@@ -16,9 +16,10 @@ from formworld.reducing import short_basis
 from formworld.tables import cofactors, dot, unit_rows
 
 
-def basis_of(table):
-    """A basis with the successive least lengths, the shortest vector first."""
-    return short_basis(table)[::-1]
+def least_basis(table):
+    """A basis with the successive least lengths, the shortest vector first, and its table."""
+    basis, rows = short_basis(table)
+    return basis[::-1], [row[::-1] for row in rows[::-1]]
 
 
 def shells_of(table):

@@ -6,7 +6,6 @@ from formworld.limits import MOST_NUMBER
 from formworld.primes import prime_divisors
 from formworld.reducing import short_basis, vectors_from
 from formworld.requirements import require_form, require_positive_small
-from formworld.tables import table_between
 
 # A positive form that gives all numbers up to this one gives all (Bhargava, Hanke); if it is even between, so it is
 # with a lesser one (Conway, Schneeberger, Bhargava).
@@ -23,8 +22,8 @@ def gives(form, number):
 def writings(form, number):
     """All vectors at which the value is the number, ascending."""
     require_asked(form, number)
-    basis = short_basis(form.table)
-    return tuple(vectors_from(basis, vectors_of_length(table_between(form.table, basis), 2 * number)))
+    basis, table = short_basis(form.table)
+    return tuple(vectors_from(basis, vectors_of_length(table, 2 * number)))
 
 
 def count_writings(form, number):
@@ -74,7 +73,7 @@ def require_asked(form, number):
 
 
 def short_table(form):
-    return table_between(form.table, short_basis(form.table))
+    return short_basis(form.table)[1]
 
 
 def missed_numbers(table, most):

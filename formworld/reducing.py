@@ -61,7 +61,7 @@ def put(basis, rows, step):
 
 
 def short_basis(table):
-    """A basis, the shortest vector last, that no multiple and no sum of basis vectors makes shorter.
+    """A basis, the shortest vector last, that no multiple and no sum of basis vectors makes shorter, and its table.
 
     With up to four unknowns its lengths are the least ones that any basis has (Minkowski).
     """
@@ -72,7 +72,8 @@ def short_basis(table):
         put(basis, rows, step)
         step = multiple_step(rows) or sign_step(rows)
     lengths = [(-rows[index][index], index) for index in range(len(basis))]
-    return [basis[index] for _, index in sorted(lengths)]
+    order = [index for _, index in sorted(lengths)]
+    return [basis[index] for index in order], [tuple([rows[index][other] for other in order]) for index in order]
 
 
 def vectors_from(basis, vectors):

@@ -5,7 +5,7 @@ from formworld.fibres import vectors_of_length
 from formworld.listing import vectors_within
 from formworld.reducing import short_basis, vectors_from
 from formworld.requirements import require_form, require_positive_small
-from formworld.tables import product_at, table_between
+from formworld.tables import product_at
 
 MOST_BOUND = 200
 
@@ -15,8 +15,8 @@ def vectors_up_to(form, bound):
     require_form(form)
     check_number(bound, 0, MOST_BOUND)
     require_positive_small(form)
-    basis = short_basis(form.table)
-    vectors = vectors_from(basis, vectors_within(table_between(form.table, basis), 2 * bound))
+    basis, table = short_basis(form.table)
+    vectors = vectors_from(basis, vectors_within(table, 2 * bound))
     nought = (0,) * form.unknowns
     return tuple([vector for vector in vectors if vector != nought])
 
@@ -25,15 +25,14 @@ def least_value(form):
     """The least value above 0."""
     require_form(form)
     require_positive_small(form)
-    return least_length(table_between(form.table, short_basis(form.table))) // 2
+    return least_length(short_basis(form.table)[1]) // 2
 
 
 def least_vectors(form):
     """All vectors that have the least value above 0, ascending."""
     require_form(form)
     require_positive_small(form)
-    basis = short_basis(form.table)
-    table = table_between(form.table, basis)
+    basis, table = short_basis(form.table)
     return tuple(vectors_from(basis, vectors_of_length(table, least_length(table))))
 
 

@@ -1,5 +1,6 @@
 """What the tests compare with: plain ways to the same answers, not those of the program."""
 
+import functools
 import itertools
 import math
 import random
@@ -185,8 +186,12 @@ def dot_table(rows, v, w):
     return sum(v[i] * rows[i][j] * w[j] for i in range(len(v)) for j in range(len(w)))
 
 
+@functools.cache
 def least_of_bases(coefficients, most):
-    """The least tuple (squares, coefficients) of all bases of vectors with a value up to `most`."""
+    """The least tuple (squares, coefficients) of all bases of vectors with a value up to `most`.
+
+    A basis and its opposite have the same one, so the first vector is taken just with one sign.
+    """
     rows = table(coefficients)
     n = len(rows)
     vectors = sorted((m, v) for v, m in listing(coefficients, most).items() if m > 0)
@@ -199,7 +204,8 @@ def least_of_bases(coefficients, most):
         for m, v in vectors:
             if best[0] is not None and squares + (m,) > best[0][0][:len(squares) + 1]:
                 break
-            go(system + (v,), squares + (m,))
+            if system or v > (0,) * n:
+                go(system + (v,), squares + (m,))
 
     def finish(system, squares):
         minors = [(-1) ** (n - 1 + k) * determinant([v[:k] + v[k + 1:] for v in system]) for k in range(n)]
@@ -220,9 +226,11 @@ def least_of_bases(coefficients, most):
     return best[0][1]
 
 
+@functools.cache
 def given_numbers(coefficients, most):
-    """All values from 1 to `most`, out of the whole box."""
+    """All values from 1 to `most`, out of half the box: opposite vectors have one value."""
     *ranges, last = [range(-b, b + 1) for b in box(coefficients, most)]
+    ranges[0] = ranges[0][len(ranges[0]) // 2:]
     square = coefficients[-1]
     found = set()
     for beginning in itertools.product(*ranges):

@@ -83,8 +83,10 @@ class ReducingTest(unittest.TestCase):
     def test_bases(self):
         """A basis, longest first; with up to four unknowns none has shorter vectors."""
         for skew, easy, _, _ in reference.skew_forms(71, 4) + [(row, row, None, None) for row in reference.POSITIVE]:
-            basis = short_basis(reference.table(skew))
+            basis, rows = short_basis(reference.table(skew))
             self.assertEqual(abs(reference.determinant(basis)), 1)
+            self.assertEqual([list(row) for row in rows],
+                             [[reference.dot_table(reference.table(skew), v, w) for w in basis] for v in basis])
             lengths = [reference.value(skew, vector) for vector in basis]
             self.assertEqual(lengths, sorted(lengths, reverse=True))
             if len(easy) < 15:
@@ -93,8 +95,9 @@ class ReducingTest(unittest.TestCase):
     def test_a_short_basis_stays(self):
         for row in ((1, 0, 1), (3, 0, 2), reference.diagonal((4, 3, 2, 1))):
             n = reference.unknowns(row)
-            self.assertEqual(short_basis(reference.table(row)),
-                             [tuple(int(i == j) for j in range(n)) for i in range(n)])
+            basis, rows = short_basis(reference.table(row))
+            self.assertEqual(basis, [tuple(int(i == j) for j in range(n)) for i in range(n)])
+            self.assertEqual(tuple(rows), reference.table(row))
 
 
 if __name__ == "__main__":

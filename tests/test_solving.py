@@ -137,7 +137,7 @@ class SolvedTest(Case):
             t, u = least_unit(d)
             if t > 200:
                 continue
-            given = {two.value(row, x, y) for x in range(-400, 401) for y in range(0, 401)}
+            given = {two.value(row, x, y) for x in range(-250, 251) for y in range(0, 251)}
             for number in range(-60, 61):
                 if number:
                     self.assertIs(is_solved(Form(row), number), number in given, (row, number))
