@@ -4,7 +4,7 @@ from formworld.bases import least_basis, least_system, matching_rest, own_system
 from formworld.forms import Form
 from formworld.requirements import require_few_unknowns, require_form, require_positive_small
 from formworld.tables import coefficients_of, columns_of, combined, determinant, inverse_change, joined_changes
-from formworld.tables import table_between
+from formworld.tables import product_of, table_between
 
 
 def least_form(form):
@@ -52,10 +52,7 @@ def is_mirrored(form):
 
 
 def product_count(rows):
-    count = 1
-    for systems in rows:
-        count = count * len(systems)
-    return count
+    return product_of([len(systems) for systems in rows])
 
 
 def has_improper(rows):

@@ -1,12 +1,13 @@
-"""Whether values are what the document asks: integers, discriminants, vectors, changes, coefficients."""
+"""Whether values are what the document asks: integers, discriminants, vectors, changes, coefficients, looks."""
 
-from formworld.errors import InvalidChange, InvalidCoefficients, InvalidNumber, InvalidVector
-from formworld.limits import LEAST_DISCRIMINANT, MOST_DISCRIMINANT, MOST_SIZE
+from formworld.errors import InvalidChange, InvalidCoefficients, InvalidLooks, InvalidNumber, InvalidVector
+from formworld.limits import LEAST_DISCRIMINANT, MOST_DISCRIMINANT, MOST_LOOKS, MOST_SIZE
 from formworld.primes import is_square
 from formworld.tables import UNKNOWNS, determinant
 
 MOST_ENTRY = 10 ** 60 * 10 ** 15
 MOST_DIGITS = 80
+MOST_LOOKED = 200
 DIGITS = "0123456789"
 
 
@@ -70,6 +71,20 @@ def check_change(change, many):
             raise InvalidChange(index)
     if abs(determinant(change)) != 1:
         raise InvalidChange(None)
+
+
+def is_look(value):
+    if not isinstance(value, tuple) or len(value) != 2:
+        return False
+    return is_within(value[0], 1, MOST_LOOKED) and isinstance(value[1], bool)
+
+
+def check_looks(looks):
+    if not isinstance(looks, tuple):
+        raise InvalidLooks(None)
+    for index, look in enumerate(looks):
+        if index == MOST_LOOKS or not is_look(look):
+            raise InvalidLooks(index)
 
 
 def read_integer(word):

@@ -1,8 +1,9 @@
 """Which numbers positive forms give, and how often."""
 
 from formworld.checks import check_number
-from formworld.fibres import counts_of_lengths, has_length, lengths_mask, vectors_of_length
+from formworld.fibres import counts_of_lengths, has_length, vectors_of_length
 from formworld.limits import MOST_NUMBER
+from formworld.looking import given_numbers
 from formworld.primes import prime_divisors
 from formworld.reducing import short_basis, vectors_from
 from formworld.requirements import require_form, require_positive_small
@@ -59,6 +60,11 @@ def least_missed(form):
     """The least integer from 1 on that the form does not give, None if it gives all."""
     require_form(form)
     require_positive_small(form)
+    return first_missed(form)
+
+
+def first_missed(form):
+    """The same for positive forms, small or not."""
     table = short_table(form)
     numbers = missed_numbers(table, LAST_TOLD_EVEN)
     if not numbers and not form.is_even_between:
@@ -78,11 +84,9 @@ def short_table(form):
 
 def missed_numbers(table, most):
     """The numbers up to `most` that are no values, ascending."""
-    wanted = 0
-    for number in range(1, most + 1):
-        wanted = wanted | (1 << (2 * number))
-    mask = lengths_mask(table, wanted)
-    return [number for number in range(1, most + 1) if mask >> (2 * number) & 1 == 0]
+    numbers = list(range(1, most + 1))
+    given = given_numbers(table, numbers)
+    return [number for number in numbers if number not in given]
 
 
 def signed_divisors(number):

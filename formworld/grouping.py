@@ -8,7 +8,7 @@ from formworld.rings import discriminant_at, leading_of, main_row, ring_of
 def class_rows(discriminant):
     """The leading forms of all classes of primitive forms, ascending."""
     if discriminant < 0:
-        return sorted(positive_rows(discriminant))
+        return sorted([row for row in positive_rows(discriminant) if is_primitive(row)])
     leaders = []
     known = {}
     for row in sorted(mixed_rows(discriminant)):
@@ -24,7 +24,7 @@ def is_primitive(row):
 
 
 def positive_rows(discriminant):
-    """All reduced primitive forms of a discriminant below 0."""
+    """All reduced forms of a discriminant below 0, those that are not primitive among them."""
     rows = []
     for both in range(discriminant % 2, isqrt(-discriminant // 3) + 1, 2):
         product = (both * both - discriminant) // 4
@@ -33,7 +33,7 @@ def positive_rows(discriminant):
                 rows.append((first, both, product // first))
                 if 0 < both < first < product // first:
                     rows.append((first, -both, product // first))
-    return [row for row in rows if is_primitive(row)]
+    return rows
 
 
 def mixed_rows(discriminant):

@@ -8,7 +8,7 @@ from formworld.places import bad_places, diagonal_sign
 from formworld.primes import is_square, next_prime, prime_divisors
 from formworld.requirements import require_form, require_place, require_placed
 from formworld.signs import is_local_square, sign_at
-from formworld.tables import diagonal_of
+from formworld.tables import diagonal_of, product_of
 
 
 def gives_nought_at(form, place):
@@ -109,10 +109,3 @@ def place_of_no_square(numbers):
     while gives_nought_there(numbers, place):
         place = next_prime(place)
     return place
-
-
-def product_of(numbers):
-    product = 1
-    for number in numbers:
-        product = product * number
-    return product

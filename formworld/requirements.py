@@ -1,4 +1,7 @@
-"""What the document asks of forms, places and discriminants: each function raises the error that is due, or none."""
+"""What the document asks of forms, places and discriminants.
+
+Each function that requires something raises the error that is due, or none; the other ones tell whether it is so.
+"""
 
 from formworld.checks import first_beyond, is_discriminant, is_within
 from formworld.errors import Flat, InvalidDiscriminant, InvalidPlace, NotAForm, NotBinary, NotMixed, NotPositive
@@ -44,6 +47,10 @@ def require_positive_small(form):
     if form.kind != "positive":
         raise NotPositive()
     require_size(form, MOST_SMALL)
+
+
+def is_positive_small(form):
+    return form.kind == "positive" and first_beyond(form.coefficients, MOST_SMALL) is None
 
 
 def require_placed(form):

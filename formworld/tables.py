@@ -11,6 +11,13 @@ def dot(row, other):
     return sum([left * right for left, right in zip(row, other)])
 
 
+def product_of(numbers):
+    product = 1
+    for number in numbers:
+        product = product * number
+    return product
+
+
 def entry_index(row, column, many):
     """Where the coefficient for two unknowns stands, `row` not being above `column`."""
     return row * many - row * (row - 1) // 2 + column - row

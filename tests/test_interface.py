@@ -49,6 +49,16 @@ FUNCTIONS = {
         "least_member": "form vector", "is_one_family": "form vector other",
     },
     "neighbours": {"is_rich": "primes number", "neighbours": "primes", "count_rich": "primes most"},
+    "residues": {
+        "count_modulo": "form number modulus", "given_modulo": "form modulus", "is_met_at": "form number place",
+        "is_met": "form number", "unmet_place": "form number",
+    },
+    "squares": {"count_squares": "many number", "squares_for": "many number", "weighted_classes": "number"},
+    "masks": {
+        "fillings": "mask reach looks", "verdict": "mask reach looks number", "best_number": "mask reach looks most",
+        "surely_alike": "mask reach looks",
+    },
+    "mending": {"least_mends": "form number", "least_all_mends": "form", "fitting_forms": "forms looks"},
 }
 METHODS = {
     "read": "text", "value": "self vector", "product": "self vector other", "changed": "self change",
