@@ -42,8 +42,12 @@ def check_number(number, least, most):
         raise InvalidNumber(number)
 
 
+def is_other_than_nought(value, size):
+    return is_within(value, -size, size) and value != 0
+
+
 def check_other_than_nought(number, size):
-    if not is_within(number, -size, size) or number == 0:
+    if not is_other_than_nought(number, size):
         raise InvalidNumber(number)
 
 
@@ -63,11 +67,21 @@ def check_vector(vector, many):
         raise InvalidVector(index)
 
 
+def is_vector(value, many):
+    return are_within(value, many, MOST_ENTRY)
+
+
+def is_change(value, many):
+    if not isinstance(value, tuple) or len(value) != many or not all([is_vector(row, many) for row in value]):
+        return False
+    return abs(determinant(value)) == 1
+
+
 def check_change(change, many):
     if not isinstance(change, tuple) or len(change) != many:
         raise InvalidChange(None)
     for index, row in enumerate(change):
-        if not are_within(row, many, MOST_ENTRY):
+        if not is_vector(row, many):
             raise InvalidChange(index)
     if abs(determinant(change)) != 1:
         raise InvalidChange(None)

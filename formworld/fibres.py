@@ -92,17 +92,18 @@ def vectors_of_length(table, length):
     return vectors
 
 
-def has_length(table, length):
-    """Whether some vector has this very length."""
+def some_vector(table, length):
+    """Any vector of this very length, None if there is none."""
     levels = levels_of(table)
     known = {}
     for _, rows in slices_of(levels, length):
-        for _, _, kind, low in fibres(table, levels, rows, length):
+        for beginning, (up, down), kind, low in fibres(table, levels, rows, length):
             if kind not in known:
-                known[kind] = {size: True for size, _, _ in pairs_of(table, kind, length)}
+                known[kind] = {size: (upper, lower) for size, upper, lower in pairs_of(table, kind, length)}
             if length - low in known[kind]:
-                return True
-    return False
+                upper, lower = known[kind][length - low]
+                return beginning + (upper - up, lower - down)
+    return None
 
 
 def counts_of_lengths(table, lengths):

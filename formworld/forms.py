@@ -6,7 +6,7 @@ from formworld.checks import check_change, check_coefficients, check_other_than_
 from formworld.checks import first_beyond, read_integer
 from formworld.errors import InvalidText, NotAForm, TooGreat
 from formworld.limits import MOST_SIZE, MOST_SMALL, MOST_UNKNOWNS
-from formworld.tables import UNKNOWNS, coefficients_of, columns_of, minors_of, product_at, table_between, table_of
+from formworld.tables import UNKNOWNS, changed_coefficients, coefficients_of, minors_of, product_at, table_of
 
 
 class Form:
@@ -82,7 +82,7 @@ class Form:
     def changed(self, change):
         """The form that has at each vector the value that this one has where the change leads it."""
         check_change(change, self.unknowns)
-        return bounded_form(coefficients_of(table_between(self.table, columns_of(change))))
+        return bounded_form(changed_coefficients(self.table, change))
 
     def times(self, many):
         """The form with all coefficients so many times."""

@@ -1,23 +1,26 @@
 """Which numbers positive forms give, and how often."""
 
 from formworld.checks import check_number
-from formworld.fibres import counts_of_lengths, has_length, vectors_of_length
+from formworld.fibres import counts_of_lengths, some_vector, vectors_of_length
 from formworld.limits import MOST_NUMBER
 from formworld.looking import given_numbers
 from formworld.primes import prime_divisors
 from formworld.reducing import short_basis, vectors_from
 from formworld.requirements import require_form, require_positive_small
+from formworld.tables import combined
 
-# A positive form that gives all numbers up to this one gives all (Bhargava, Hanke); if it is even between, so it is
-# with a lesser one (Conway, Schneeberger, Bhargava).
-LAST_TOLD = 290
-LAST_TOLD_EVEN = 15
+# A positive form that gives these numbers gives all, and of a form that does not the least number that it misses is one
+# of these (Bhargava, Hanke); if it is even between, so it is with the first ones (Conway, Schneeberger, Bhargava).
+TELLING_EVEN = (1, 2, 3, 5, 6, 7, 10, 14, 15)
+TELLING = (
+    1, 2, 3, 5, 6, 7, 10, 13, 14, 15, 17, 19, 21, 22, 23, 26, 29, 30, 31, 34, 35, 37, 42, 58, 93, 110, 145, 203, 290,
+)
 
 
 def gives(form, number):
     """Whether the form gives the number."""
     require_asked(form, number)
-    return has_length(short_table(form), 2 * number)
+    return some_vector(short_table(form), 2 * number) is not None
 
 
 def writings(form, number):
@@ -25,6 +28,14 @@ def writings(form, number):
     require_asked(form, number)
     basis, table = short_basis(form.table)
     return tuple(vectors_from(basis, vectors_of_length(table, 2 * number)))
+
+
+def some_writing(form, number):
+    """Any vector at which the value is the number, None if there is none."""
+    require_asked(form, number)
+    basis, table = short_basis(form.table)
+    vector = some_vector(table, 2 * number)
+    return None if vector is None else combined(basis, vector)
 
 
 def count_writings(form, number):
@@ -66,10 +77,15 @@ def least_missed(form):
 def first_missed(form):
     """The same for positive forms, small or not."""
     table = short_table(form)
-    numbers = missed_numbers(table, LAST_TOLD_EVEN)
+    numbers = missed_numbers(table, TELLING_EVEN[-1])
     if not numbers and not form.is_even_between:
-        numbers = missed_numbers(table, LAST_TOLD)
+        numbers = missed_numbers(table, TELLING[-1])
     return numbers[0] if numbers else None
+
+
+def telling_numbers(form):
+    """Those that a positive form has to give if it is to give all numbers."""
+    return TELLING_EVEN if form.is_even_between else TELLING
 
 
 def require_asked(form, number):

@@ -2,7 +2,7 @@
 
 from formworld.checks import check_looks, check_number
 from formworld.errors import InvalidForms
-from formworld.fibres import has_length
+from formworld.fibres import some_vector
 from formworld.forms import Form
 from formworld.giving import first_missed, short_table
 from formworld.limits import MOST_NUMBER
@@ -64,7 +64,7 @@ def is_mended(form, number):
         return False
     if number is None:
         return first_missed(form) is None
-    return has_length(short_table(form), 2 * number)
+    return some_vector(short_table(form), 2 * number) is not None
 
 
 def changed_rows(rows):

@@ -17,8 +17,12 @@ def require_form(form):
         raise NotAForm(form)
 
 
+def is_place(value):
+    return is_within(value, 0, MOST_SIZE) and (value == 0 or is_prime(value))
+
+
 def require_place(place):
-    if not is_within(place, 0, MOST_SIZE) or not (place == 0 or is_prime(place)):
+    if not is_place(place):
         raise InvalidPlace(place)
 
 
@@ -53,11 +57,22 @@ def is_positive_small(form):
     return form.kind == "positive" and first_beyond(form.coefficients, MOST_SMALL) is None
 
 
+def is_small_of_few(form):
+    """Whether the form is positive and small, and has up to four unknowns."""
+    return is_positive_small(form) and form.unknowns < MOST_UNKNOWNS
+
+
 def require_placed(form):
     if form.kind == "flat":
         raise Flat()
     require_size(form, MOST_PLACED)
     require_few_unknowns(form)
+
+
+def is_placed(form):
+    if form.kind == "flat" or form.unknowns == MOST_UNKNOWNS:
+        return False
+    return first_beyond(form.coefficients, MOST_PLACED) is None
 
 
 def require_binary(form):
@@ -76,6 +91,17 @@ def require_primitive_binary(form):
     require_binary(form)
     if form.content != 1:
         raise NotPrimitive()
+
+
+def is_primitive_binary(form):
+    return is_binary(form) and form.content == 1
+
+
+def are_of_group(forms):
+    """Whether they are primitive binary forms of one discriminant."""
+    if not all([is_primitive_binary(form) for form in forms]):
+        return False
+    return len(set([discriminant_at(form.coefficients) for form in forms])) == 1
 
 
 def require_mixed_primitive(form):

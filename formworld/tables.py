@@ -52,6 +52,11 @@ def table_between(table, vectors):
     return tuple([tuple([dot(vector, image) for image in images]) for vector in vectors])
 
 
+def changed_coefficients(table, change):
+    """Those of the form that has at each vector the value that this one has where the change leads it."""
+    return coefficients_of(table_between(table, columns_of(change)))
+
+
 def columns_of(rows):
     return tuple([tuple([row[index] for row in rows]) for index in range(len(rows))])
 

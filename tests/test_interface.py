@@ -59,7 +59,27 @@ FUNCTIONS = {
         "surely_alike": "mask reach looks",
     },
     "mending": {"least_mends": "form number", "least_all_mends": "form", "fitting_forms": "forms looks"},
+    "checker": {"accepts": "claim certificate"},
+    "certificates": {
+        "certify_number": "form number", "certify_all": "form", "certify_alike": "form other",
+        "certify_proper": "form other", "certify_part": "form other", "certify_nought": "form",
+        "certify_product": "form other", "certify_unit": "discriminant", "certify_solved": "form number",
+        "certify_barred": "form number",
+    },
 }
+CLASSES = {
+    ("desks", "Desk"): {
+        "__init__": "self form", "change": "self change", "put": "self index coefficient", "join": "self other",
+        "cut": "self", "lead": "self", "undo": "self", "trial": "self", "tried": "self action",
+    },
+    ("shelves", "Shelf"): {
+        "__init__": "self", "__setitem__": "self at worth", "__getitem__": "self at", "__contains__": "self x",
+        "__len__": "self", "drop": "self name", "wish": "self wish", "lift": "self index", "undo": "self",
+        "trial": "self", "tried": "self action",
+    },
+    ("console", "Console"): {"__init__": "self form", "say": "self line"},
+}
+CLASS_PROPERTIES = {("desks", "Desk"): ("form", "changes"), ("shelves", "Shelf"): ("names", "wishes", "changes")}
 METHODS = {
     "read": "text", "value": "self vector", "product": "self vector other", "changed": "self change",
     "times": "self many", "joined": "self other", "__init__": "self coefficients", "__str__": "self",
@@ -86,6 +106,23 @@ class InterfaceTest(unittest.TestCase):
                 function = getattr(loaded, name)
                 self.assertEqual(function.__module__, f"formworld.{module}")
                 self.assertEqual(parameters(function), plain(names), name)
+
+    def test_classes(self):
+        for (module, name), methods in CLASSES.items():
+            made = getattr(importlib.import_module(f"formworld.{module}"), name)
+            self.assertEqual((made.__module__, made.__bases__), (f"formworld.{module}", (object,)))
+            for method, names in methods.items():
+                self.assertEqual(parameters(vars(made)[method]), plain(names), (name, method))
+            for told in CLASS_PROPERTIES.get((module, name), ()):
+                self.assertIsInstance(vars(made)[told], property)
+                self.assertIsNone(vars(made)[told].fset)
+
+    def test_do_all(self):
+        from formworld.shelves import Shelf
+        kinds = [(p.name, p.kind.name, p.default) for p in inspect.signature(vars(Shelf)["do_all"]).parameters.values()]
+        empty = inspect.Parameter.empty
+        self.assertEqual(kinds, [("self", "POSITIONAL_OR_KEYWORD", empty), ("deeds", "VAR_POSITIONAL", empty),
+                                 ("watch", "KEYWORD_ONLY", None)])
 
     def test_form(self):
         from formworld.forms import Form

@@ -1,7 +1,7 @@
 """The package keeps to the subset of Python that is asked of it, as far as a plain look at the syntax can tell.
 
 Where a rule allows something only in some places, this test is stricter and bars it from all: the package does
-without lambdas, generators, `try`, nested functions and annotations.
+without lambdas, generators, nested functions and annotations; `try` stands for own errors and for taking back alone.
 """
 
 import ast
@@ -25,10 +25,11 @@ BARRED_NAMES = set("""register mro elements open input law version_info with_tra
     locals methodcaller os quit setattr super type vars sys""".split())
 BARRED_WORDS = set("""type typing typing_extensions enum Enum IntEnum StrEnum Flag IntFlag Generic Protocol ABC ABCMeta
     namedtuple NamedTuple TypedDict TYPE_CHECKING abstractmethod""".split())
-DOUBLE = {"__init__", "__eq__", "__repr__", "__str__", "__len__"}
+DOUBLE = {"__init__", "__eq__", "__repr__", "__str__", "__len__", "__enter__", "__exit__", "__iter__"}
+OPERATORS = {"__setitem__": ["self", "at", "worth"], "__getitem__": ["self", "at"], "__contains__": ["self", "x"]}
 BARRED_NODES = (
-    ast.Lambda, ast.GeneratorExp, ast.Yield, ast.YieldFrom, ast.Try, ast.Global, ast.Nonlocal, ast.AsyncFunctionDef,
-    ast.Await, ast.AnnAssign, ast.NamedExpr, ast.Match, ast.With, ast.Set, ast.SetComp, ast.Delete, ast.Div,
+    ast.Lambda, ast.GeneratorExp, ast.Yield, ast.YieldFrom, ast.Global, ast.Nonlocal, ast.AsyncFunctionDef,
+    ast.Await, ast.AnnAssign, ast.NamedExpr, ast.Match, ast.Set, ast.SetComp, ast.Delete, ast.Div,
     ast.MatMult, ast.Import,
 )
 
@@ -55,7 +56,8 @@ def module_names(tree):
 
 
 def bound_in(function):
-    names = {argument.arg for argument in function.args.args}
+    names = {argument.arg for argument in function.args.args + function.args.kwonlyargs}
+    names |= {function.args.vararg.arg} if function.args.vararg else set()
     names |= {n.id for n in ast.walk(function) if isinstance(n, ast.Name) and isinstance(n.ctx, ast.Store)}
     return names
 
@@ -104,8 +106,49 @@ class LanguageTest(unittest.TestCase):
                     self.assertIn(decorator.id, ("property", "staticmethod"))
                     self.assertIsInstance(node.parent, ast.ClassDef)
                 if node.name.startswith("__"):
-                    self.assertIn(node.name, DOUBLE)
+                    self.assertIn(node.name, DOUBLE | set(OPERATORS))
                     self.assertIsInstance(node.parent, ast.ClassDef)
+                if node.name in OPERATORS:
+                    self.assertEqual([argument.arg for argument in node.args.args], OPERATORS[node.name])
+
+    def test_try_and_with(self):
+        """Handlers name own error classes and nothing else; what is taken back is one attribute."""
+        errors = {node.name for _, tree in parsed() for node in tree.body if isinstance(node, ast.ClassDef)}
+        for path, tree in parsed():
+            for node in ast.walk(tree):
+                if isinstance(node, ast.Try):
+                    for handler in node.handlers:
+                        self.assertIn(handler.type.id, errors, path)
+                        self.assertIsNone(handler.name, path)
+                    for row in node.finalbody:
+                        self.assertEqual(ast.unparse(row.test).split(" ", 1)[1], "is not None", path)
+                        self.assertEqual([type(part) for part in row.body], [ast.Assign], path)
+                        self.assertIsInstance(row.body[0].value, ast.Name, path)
+                        self.assertEqual(row.orelse, [])
+                if isinstance(node, ast.With):
+                    self.assertEqual([item.context_expr.func.id for item in node.items], ["Trial"], path)
+
+    def test_exit(self):
+        """The rows of `__exit__` assign attributes to attributes, and nothing else happens there."""
+        for path, tree in parsed():
+            for node in ast.walk(tree):
+                if isinstance(node, ast.FunctionDef) and node.name == "__exit__":
+                    self.assertEqual([argument.arg for argument in node.args.args], ["self", "kind", "value", "trace"])
+                    for row in node.body:
+                        self.assertIsInstance(row, ast.Assign, path)
+                        self.assertIsInstance(row.value, ast.Attribute, path)
+                        self.assertIsInstance(row.targets[0], ast.Attribute, path)
+
+    def test_properties_are_never_assigned(self):
+        """No class stores an attribute with the name of a property of any class."""
+        names = {n.name for _, tree in parsed() for n in ast.walk(tree) if isinstance(n, ast.FunctionDef)
+                 if any(d.id == "property" for d in n.decorator_list)}
+        methods = {n.name for _, tree in parsed() for c in ast.walk(tree) if isinstance(c, ast.ClassDef) for n in c.body
+                   if isinstance(n, ast.FunctionDef)}
+        for path, tree in parsed():
+            for node in ast.walk(tree):
+                if isinstance(node, ast.Attribute) and isinstance(node.ctx, ast.Store):
+                    self.assertNotIn(node.attr, names | methods, (path, node.lineno))
 
     def test_module_level(self):
         for path, tree in parsed():
@@ -185,7 +228,7 @@ class LanguageTest(unittest.TestCase):
             counted = name == "range" and isinstance(parent, ast.Call) and parent.func.id in ("reversed", "len")
             self.assertTrue(looped or taken or counted, (path, node.lineno))
         if name == "set":
-            self.assertEqual(node.parent.func.id, "sorted", (path, node.lineno))
+            self.assertIn(node.parent.func.id, ("sorted", "len"), (path, node.lineno))
 
     def test_words(self):
         for path, tree in parsed():
