@@ -1,8 +1,8 @@
 """Writings, found and counted without going through all vectors.
 
 The last two numbers of a vector stand apart. Whatever the numbers ahead of them are, these shift the last two by
-some integers, and leave one of finitely many kinds of pairs to be added. So the pairs of each kind are listed once.
-Lengths are as in the listing: twice the values.
+some integers, and leave one of finitely many kinds of pairs to be added. So the pairs of a kind that is met often need
+be listed only once. Lengths are as in the listing: twice the values.
 
 Of a vector and its opposite only that one is looked at whose first number is not below 0, if there are more than two
 unknowns. The vectors with one first number are a slice.
@@ -12,6 +12,9 @@ from math import isqrt
 
 from formworld.listing import extended, levels_of, span
 from formworld.tables import dot
+
+# From this time on that a kind is met its pairs are listed.
+OFTEN = 4
 
 
 def slices_of(levels, most):
@@ -51,16 +54,49 @@ def fibres(table, levels, rows, most):
     return found
 
 
-def pairs_of(table, kind, most):
-    """All pairs of this kind with a length up to `most`, as tuples (length, number, number)."""
+class Pairs:
+    """The pairs of the last two numbers, by their kind and length.
+
+    The pairs of a kind that is met often are all listed once, up to the greatest length; before that they are looked
+    for by the length that is asked.
+    """
+
+    def __init__(self, rows, most):
+        self.rows = rows
+        self.most = most
+        self.met = {}
+        self.listed = {}
+
+    def found(self, kind, length):
+        if kind in self.listed:
+            return self.listed[kind].get(length, ())
+        self.met[kind] = self.met.get(kind, 0) + 1
+        if self.met[kind] < OFTEN:
+            return pairs_at(self.rows, kind, length)
+        self.listed[kind] = pairs_by_length(self.rows, kind, self.most)
+        return self.listed[kind].get(length, ())
+
+
+def uppers(table, kind, most):
+    """For each upper number of the pairs of this kind with a length up to `most`: itself, and the numbers slope, base.
+
+    With a lower number n the length of the pair is base + 2 * slope * n + n * n times the last length of the table.
+    """
     left, right = kind
     first, both, second = table[-2][-2], table[-2][-1], table[-1][-1]
     measure = first * second - both * both
     middle = second * left - both * right
+    reach = isqrt(measure * (second * most + right * right) + middle * middle)
+    return [
+        (upper, both * upper + right, (first * upper + 2 * left) * upper) for upper in span(measure, middle, reach)
+    ]
+
+
+def pairs_of(table, kind, most):
+    """All pairs of this kind with a length up to `most`, as tuples (length, number, number)."""
+    second = table[-1][-1]
     pairs = []
-    for upper in span(measure, middle, isqrt(measure * (second * most + right * right) + middle * middle)):
-        slope = both * upper + right
-        base = (first * upper + 2 * left) * upper
+    for upper, slope, base in uppers(table, kind, most):
         lowers = span(second, slope, isqrt(second * (most - base) + slope * slope))
         pairs.extend([(base + (2 * slope + second * lower) * lower, upper, lower) for lower in lowers])
     return pairs
@@ -75,17 +111,27 @@ def pairs_by_length(table, kind, most):
     return pairs
 
 
+def pairs_at(table, kind, length):
+    """All pairs of this kind with this very length, as tuples (number, number)."""
+    second = table[-1][-1]
+    pairs = []
+    for upper, slope, base in uppers(table, kind, length):
+        square = second * (length - base) + slope * slope
+        root = isqrt(square)
+        if root * root == square:
+            tops = (root - slope, -root - slope) if root > 0 else (-slope,)
+            pairs.extend([(upper, top // second) for top in tops if top % second == 0])
+    return pairs
+
+
 def vectors_of_length(table, length):
     """All vectors of this very length."""
     levels = levels_of(table)
-    known = {}
+    pairs = Pairs(table, length)
     vectors = []
     for weight, rows in slices_of(levels, length):
         for beginning, (up, down), kind, low in fibres(table, levels, rows, length):
-            if kind not in known:
-                known[kind] = pairs_by_length(table, kind, length)
-            pairs = known[kind].get(length - low, ())
-            found = [beginning + (upper - up, lower - down) for upper, lower in pairs]
+            found = [beginning + (upper - up, lower - down) for upper, lower in pairs.found(kind, length - low)]
             vectors.extend(found)
             if weight == 2:
                 vectors.extend([tuple([-number for number in vector]) for vector in found])
@@ -95,37 +141,23 @@ def vectors_of_length(table, length):
 def some_vector(table, length):
     """Any vector of this very length, None if there is none."""
     levels = levels_of(table)
-    known = {}
+    pairs = Pairs(table, length)
     for _, rows in slices_of(levels, length):
         for beginning, (up, down), kind, low in fibres(table, levels, rows, length):
-            if kind not in known:
-                known[kind] = {size: (upper, lower) for size, upper, lower in pairs_of(table, kind, length)}
-            if length - low in known[kind]:
-                upper, lower = known[kind][length - low]
+            for upper, lower in pairs.found(kind, length - low):
                 return beginning + (upper - up, lower - down)
     return None
 
 
-def counts_of_lengths(table, lengths):
-    """How many vectors there are of each of these lengths, as a dict."""
-    most = max(lengths)
+def count_of_length(table, length):
+    """How many vectors there are of this very length."""
     levels = levels_of(table)
-    known = {}
-    counts = {length: 0 for length in lengths}
-    for weight, rows in slices_of(levels, most):
-        for _, _, kind, low in fibres(table, levels, rows, most):
-            if kind not in known:
-                known[kind] = sizes_counted(pairs_of(table, kind, most))
-            for length in lengths:
-                counts[length] = counts[length] + weight * known[kind].get(length - low, 0)
-    return counts
-
-
-def sizes_counted(pairs):
-    counts = {}
-    for length, _, _ in pairs:
-        counts[length] = counts.get(length, 0) + 1
-    return counts
+    pairs = Pairs(table, length)
+    count = 0
+    for weight, rows in slices_of(levels, length):
+        for _, _, kind, low in fibres(table, levels, rows, length):
+            count = count + weight * len(pairs.found(kind, length - low))
+    return count
 
 
 def lengths_mask(table, wanted):

@@ -1,7 +1,7 @@
 """Which numbers positive forms give, and how often."""
 
 from formworld.checks import check_number
-from formworld.fibres import counts_of_lengths, some_vector, vectors_of_length
+from formworld.fibres import count_of_length, some_vector, vectors_of_length
 from formworld.limits import MOST_NUMBER
 from formworld.looking import given_numbers
 from formworld.primes import prime_divisors
@@ -41,7 +41,7 @@ def some_writing(form, number):
 def count_writings(form, number):
     """How many writings of the number there are."""
     require_asked(form, number)
-    return counts_of_lengths(short_table(form), (2 * number,))[2 * number]
+    return count_of_length(short_table(form), 2 * number)
 
 
 def count_proper(form, number):
@@ -50,10 +50,11 @@ def count_proper(form, number):
     Those with a common divisor are left out for each prime, those with two put back for both, and so on (Moebius).
     """
     require_asked(form, number)
-    parts = [(divisor, sign) for divisor, sign in signed_divisors(number) if number % (divisor * divisor) == 0]
-    lengths = [2 * number // (divisor * divisor) for divisor, _ in parts]
-    counts = counts_of_lengths(short_table(form), lengths)
-    return sum([sign * counts[length] for (_, sign), length in zip(parts, lengths)])
+    table = short_table(form)
+    return sum([
+        sign * count_of_length(table, 2 * number // (divisor * divisor))
+        for divisor, sign in signed_divisors(number) if number % (divisor * divisor) == 0
+    ])
 
 
 def missed(form, most):

@@ -1,9 +1,17 @@
-"""Short bases for positive tables: what makes it possible to list vectors of skew forms.
-
-A step is a pair: the index of a basis vector, and the numbers along the basis of a shorter one for its place.
-"""
+"""Short bases for positive tables: what makes it possible to list vectors of skew forms."""
 
 from formworld.tables import combined, dot, unit_rows
+
+# Which three or more of so many basis vectors may make a shorter one together.
+TOGETHER = {
+    2: (),
+    3: ((0, 1, 2),),
+    4: ((0, 1, 2), (0, 1, 3), (0, 2, 3), (1, 2, 3), (0, 1, 2, 3)),
+    5: (
+        (0, 1, 2), (0, 1, 3), (0, 1, 4), (0, 2, 3), (0, 2, 4), (0, 3, 4), (1, 2, 3), (1, 2, 4), (1, 3, 4), (2, 3, 4),
+        (0, 1, 2, 3), (0, 1, 2, 4), (0, 1, 3, 4), (0, 2, 3, 4), (1, 2, 3, 4), (0, 1, 2, 3, 4),
+    ),
+}
 
 
 def nearest_quotient(number, divisor):
@@ -12,52 +20,78 @@ def nearest_quotient(number, divisor):
 
 
 def multiple_step(table):
-    """A step that adds a multiple of one other basis vector, None if there is none."""
+    """The index of a basis vector, that of another one, and how many times this is to be taken away, None for none."""
     for index, row in enumerate(table):
         for other, both in enumerate(row):
             if index != other and 2 * abs(both) > table[other][other]:
-                numbers = [0] * len(table)
-                numbers[index] = 1
-                numbers[other] = -nearest_quotient(both, table[other][other])
-                return index, tuple(numbers)
+                return index, other, nearest_quotient(both, table[other][other])
     return None
+
+
+def take_away(basis, rows, step):
+    """Puts the shorter vector in its place, in the basis and in its table."""
+    index, other, many = step
+    basis[index] = tuple([left - many * right for left, right in zip(basis[index], basis[other])])
+    image = [left - many * right for left, right in zip(rows[index], rows[other])]
+    image[index] = image[index] - many * image[other]
+    for place, product in enumerate(image):
+        rows[place][index] = product
+    rows[index] = image
 
 
 def sign_step(table):
-    """A step to a sum or difference of several basis vectors, None if there is none.
+    """The index of a basis vector, and the signs of a shorter sum of basis vectors for its place, None for none.
 
-    Such sums are built up, the first sign being a plus, as tuples (signs, their products with the basis vectors,
-    length, index of the longest basis vector in it).
+    The sum of several vectors, with any signs, is not shorter than the longest one unless their products are great.
     """
-    sums = []
-    for index, row in enumerate(table):
-        longer = [((0,) * index + (1,), row, row[index], index)]
-        for signs, image, length, longest in sums:
-            top = index if row[index] > table[longest][longest] else longest
-            longer.append((signs + (0,), image, length, longest))
-            for sign in (1, -1):
-                total = length + row[index] + 2 * sign * image[index]
-                if total < table[top][top]:
-                    return step_to(signs + (sign,), top, len(table))
-                longer.append((signs + (sign,), [one + sign * by for one, by in zip(image, row)], total, top))
-        sums = longer
+    for places in TOGETHER[len(table)]:
+        lengths = [table[place][place] for place in places]
+        sizes = sum([abs(table[place][other]) for place in places for other in places])
+        if sizes > 2 * sum(lengths) - max(lengths):
+            longest = max([(length, place) for length, place in zip(lengths, places)])[1]
+            signs = short_signs(table, places, table[longest][longest])
+            if signs is not None:
+                return longest, [sign * signs[longest] for sign in signs]
     return None
 
 
-def step_to(signs, index, many):
-    """The step to this sum or its opposite, in which the vector that goes has a plus."""
-    return index, tuple([sign * signs[index] for sign in signs]) + (0,) * (many - len(signs))
+def short_signs(table, places, bound):
+    """Signs for all basis vectors at these places with which their sum is shorter than the bound, None for none.
+
+    The sums are built up, the first sign being a plus, as tuples (length, signs, products with the basis vectors).
+    """
+    sums = [(0, [0] * len(table), [0] * len(table))]
+    for place in places:
+        row = table[place]
+        longer = []
+        for length, signs, image in sums:
+            for sign in ((1, -1) if length > 0 else (1,)):
+                longer.append((
+                    length + row[place] + 2 * sign * image[place], signs[:place] + [sign] + signs[place + 1:],
+                    [left + sign * right for left, right in zip(image, row)],
+                ))
+        sums = longer
+    length, signs, _ = min(sums)
+    return signs if length < bound else None
 
 
 def put(basis, rows, step):
-    """Puts the new vector in its place, in the basis and in its table."""
-    index, numbers = step
-    basis[index] = combined(basis, numbers)
-    image = combined(rows, numbers)
+    """Puts the sum in its place, in the basis and in its table."""
+    index, signs = step
+    basis[index] = combined(basis, signs)
+    image = list(combined(rows, signs))
+    image[index] = dot(signs, image)
     for place, product in enumerate(image):
         rows[place][index] = product
-    rows[index] = list(image)
-    rows[index][index] = dot(numbers, image)
+    rows[index] = image
+
+
+def shorten(basis, rows):
+    """Takes multiples away as long as they make a basis vector shorter."""
+    step = multiple_step(rows)
+    while step is not None:
+        take_away(basis, rows, step)
+        step = multiple_step(rows)
 
 
 def short_basis(table):
@@ -67,10 +101,12 @@ def short_basis(table):
     """
     basis = list(unit_rows(len(table)))
     rows = [list(row) for row in table]
-    step = multiple_step(rows) or sign_step(rows)
+    shorten(basis, rows)
+    step = sign_step(rows)
     while step is not None:
         put(basis, rows, step)
-        step = multiple_step(rows) or sign_step(rows)
+        shorten(basis, rows)
+        step = sign_step(rows)
     lengths = [(-rows[index][index], index) for index in range(len(basis))]
     order = [index for _, index in sorted(lengths)]
     return [basis[index] for index in order], [tuple([rows[index][other] for other in order]) for index in order]

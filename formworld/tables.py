@@ -4,6 +4,13 @@ What the properties of forms call builds new lists instead of changing old ones.
 """
 
 UNKNOWNS = {3: 2, 6: 3, 10: 4, 15: 5}
+# For so many coefficients: for each row of the table, where those for its unknown and each of all unknowns stand.
+PLACES = {
+    3: ((0, 1), (1, 2)),
+    6: ((0, 1, 2), (1, 3, 4), (2, 4, 5)),
+    10: ((0, 1, 2, 3), (1, 4, 5, 6), (2, 5, 7, 8), (3, 6, 8, 9)),
+    15: ((0, 1, 2, 3, 4), (1, 5, 6, 7, 8), (2, 6, 9, 10, 11), (3, 7, 10, 12, 13), (4, 8, 11, 13, 14)),
+}
 
 
 def dot(row, other):
@@ -18,20 +25,11 @@ def product_of(numbers):
     return product
 
 
-def entry_index(row, column, many):
-    """Where the coefficient for two unknowns stands, `row` not being above `column`."""
-    return row * many - row * (row - 1) // 2 + column - row
-
-
-def entry(coefficients, row, column, many):
-    if row == column:
-        return 2 * coefficients[entry_index(row, row, many)]
-    return coefficients[entry_index(min(row, column), max(row, column), many)]
-
-
 def table_of(coefficients):
-    many = UNKNOWNS[len(coefficients)]
-    return tuple([tuple([entry(coefficients, row, column, many) for column in range(many)]) for row in range(many)])
+    return tuple([
+        tuple([coefficients[place] * (2 if place == places[index] else 1) for place in places])
+        for index, places in enumerate(PLACES[len(coefficients)])
+    ])
 
 
 def coefficients_of(table):
@@ -81,8 +79,13 @@ def cofactors(rows):
 def determinant(rows):
     if not rows:
         return 1
+    if len(rows) == 1:
+        return rows[0][0]
     if len(rows) == 2:
         return rows[0][0] * rows[1][1] - rows[0][1] * rows[1][0]
+    if len(rows) == 3:
+        (a, b, c), (d, e, f), (g, h, i) = rows
+        return a * (e * i - f * h) + b * (f * g - d * i) + c * (d * h - e * g)
     return dot(rows[0], cofactors(rows[1:]))
 
 
@@ -135,11 +138,12 @@ def minors_of(table):
             if rows is None:
                 return minors
             square = first_square(rows)
-        pivot = rows[square][square]
+        top = rows[square]
+        pivot = top[square]
         others = [index for index in range(len(rows)) if index != square]
+        below = [rows[index] for index in others]
         rows = [
-            [(pivot * rows[row][column] - rows[row][square] * rows[square][column]) // minors[-1] for column in others]
-            for row in others
+            [(pivot * row[column] - row[square] * top[column]) // minors[-1] for column in others] for row in below
         ]
         minors.append(pivot)
     return minors

@@ -3,7 +3,7 @@
 import itertools
 import unittest
 
-from formworld.reducing import multiple_step, nearest_quotient, short_basis, sign_step
+from formworld.reducing import multiple_step, nearest_quotient, put, short_basis, sign_step, take_away
 from tests import reference
 
 
@@ -44,41 +44,65 @@ class ReducingTest(unittest.TestCase):
     def test_steps_shorten(self):
         for skew, _, _, _ in reference.skew_forms(70, 4):
             table = reference.table(skew)
-            for step in (multiple_step(table), sign_step(table)):
-                if step is not None:
-                    index, vector = step
-                    self.assertEqual(vector[index], 1)
-                    self.assertLess(reference.dot_table(table, vector, vector), table[index][index])
+            n = len(table)
+
+            def length_with(index, other, many):
+                vector = [int(k == index) - many * int(k == other) for k in range(n)]
+                return reference.dot_table(table, vector, vector)
+
             step = multiple_step(table)
             if step is not None:
-                index, vector = step
-                other, many = next((k, x) for k, x in enumerate(vector) if k != index and x)
+                index, other, many = step
+                self.assertNotEqual(index, other)
+                self.assertLess(length_with(*step), table[index][index])
                 for worse in (many - 1, many + 1):
-                    tried = tuple(worse if k == other else x for k, x in enumerate(vector))
-                    self.assertGreaterEqual(reference.dot_table(table, tried, tried),
-                                            reference.dot_table(table, vector, vector))
+                    self.assertGreaterEqual(length_with(index, other, worse), length_with(*step))
+            step = sign_step(table)
+            if step is not None:
+                index, signs = step
+                self.assertEqual(signs[index], 1)
+                self.assertLess(reference.dot_table(table, signs, signs), table[index][index])
 
     def test_great_multiples_in_one_step(self):
-        self.assertEqual(multiple_step(((2, 60), (60, 1802))), (1, (-30, 1)))
-        self.assertEqual(multiple_step(((2, -61), (-61, 1864)))[1][0] in (30, 31), True)
+        self.assertEqual(multiple_step(((2, 60), (60, 1802))), (1, 0, 30))
+        self.assertIn(multiple_step(((2, -61), (-61, 1864))), ((1, 0, -30), (1, 0, -31)))
         self.assertIsNone(multiple_step(((2, 1), (1, 2))))
         self.assertIsNone(multiple_step(((2, 0), (0, 2))))
 
     def test_sign_steps(self):
-        """There is a step exactly if some sum of basis vectors is shorter than the longest one in it."""
+        """There is a step exactly if some sum of three or more basis vectors is shorter than the longest one in it."""
         rows = list(reference.POSITIVE) + [row for row, _, _, _ in reference.skew_forms(73, 3, 20, 300)]
-        none = 0
+        none = some = 0
         for table in map(reference.table, rows):
             n = len(table)
             step = sign_step(table)
             shorter = any(reference.dot_table(table, signs, signs) < max(table[i][i] for i in range(n) if signs[i])
-                          for signs in itertools.product((-1, 0, 1), repeat=n) if any(signs))
+                          for signs in itertools.product((-1, 0, 1), repeat=n) if sum(map(abs, signs)) > 2)
             self.assertIs(step is not None, shorter, table)
             none += step is None
+            some += step is not None
             if step is not None:
                 self.assertLessEqual(set(step[1]), {-1, 0, 1})
                 self.assertEqual(len(step[1]), n)
-        self.assertGreater(none, 10)
+                self.assertGreater(sum(map(abs, step[1])), 2)
+        self.assertGreater(min(none, some), 10)
+
+    def test_steps_keep_basis_and_table(self):
+        """After each step the rows are the products of the vectors with one another, and they are still a basis."""
+        for skew, _, _, _ in reference.skew_forms(74, 3):
+            table = reference.table(skew)
+            n = len(table)
+            basis = [tuple(int(i == j) for j in range(n)) for i in range(n)]
+            rows = [list(row) for row in table]
+            for _ in range(30):
+                step, done = multiple_step(rows), take_away
+                if step is None:
+                    step, done = sign_step(rows), put
+                if step is None:
+                    break
+                done(basis, rows, step)
+                self.assertEqual(abs(reference.determinant(basis)), 1)
+                self.assertEqual(rows, [[reference.dot_table(table, v, w) for w in basis] for v in basis])
 
     def test_bases(self):
         """A basis, longest first; with up to four unknowns none has shorter vectors."""
