@@ -104,7 +104,8 @@ class Form:
         return isinstance(other, Form) and self._coefficients == other._coefficients
 
     def __str__(self):
-        return " ".join([str(coefficient) for coefficient in self._coefficients])
+        # No `join` here: a method of desks, which changes them, has that name, and showing a form changes nothing.
+        return str(str(self._coefficients)[1:-1].replace(",", ""))
 
     def __repr__(self):
         return f"Form of {self.unknowns} unknowns"

@@ -173,6 +173,23 @@ class TextTest(Case):
             self.assertEqual(Form.read(str(form)), form)
             self.assertEqual(repr(form), f"Form of {reference.unknowns(row)} unknowns")
 
+    def test_texts_of_edges(self):
+        """Below 0, 0, and of the greatest size, from two to five unknowns."""
+        self.assertEqual(str(Form((2, 2, 3))), "2 2 3")
+        self.assertEqual(str(Form.read("2 6 7")), "2 6 7")
+        self.assertEqual(str(Form((-1, 0, -TOP))), "-1 0 -1000000000000")
+        self.assertEqual(str(Form((TOP, -TOP, 0, 0, -7, 12))), "1000000000000 -1000000000000 0 0 -7 12")
+        for size in SIZES:
+            rows = [(edge,) * size for edge in (0, -1, -12, TOP, -TOP)]
+            rows += [tuple(mixed[(k + turn) % len(mixed)] for k in range(size))
+                     for mixed in ((0, -1, TOP, -TOP), (TOP, 0, -305)) for turn in range(len(mixed))]
+            for row in rows:
+                text = str(Form(row))
+                self.assertIs(type(text), str)
+                self.assertEqual(text, " ".join(map(str, row)))
+                self.assertEqual(Form.read(text), Form(row))
+                self.assertEqual(Form.read(text).coefficients, row)
+
     def test_repr_for_all_numbers(self):
         shown = [repr(Form((1,) * size)) for size in SIZES]
         self.assertEqual(shown, ["Form of 2 unknowns", "Form of 3 unknowns", "Form of 4 unknowns",

@@ -150,6 +150,44 @@ class LanguageTest(unittest.TestCase):
                 if isinstance(node, ast.Attribute) and isinstance(node.ctx, ast.Store):
                     self.assertNotIn(node.attr, names | methods, (path, node.lineno))
 
+    def test_what_shows_calls_no_own_method(self):
+        """Operators, properties, `__str__` and their kin, and the functions they call, call no name of an own method.
+
+        So none of them seems to change what it is handed or holds (L5, L28), not by a method of another class either.
+        """
+        functions = [n for _, tree in parsed() for n in tree.body if isinstance(n, ast.FunctionDef)]
+        methods = [n for _, tree in parsed() for c in ast.walk(tree) if isinstance(c, ast.ClassDef) for n in c.body
+                   if isinstance(n, ast.FunctionDef)]
+        names = {method.name for method in methods}
+        quiet = (DOUBLE | set(OPERATORS)) - {"__init__", "__enter__", "__exit__", "__setitem__"}
+        waiting = [m for m in methods if m.name in quiet or any(d.id == "property" for d in m.decorator_list)]
+        self.assertIn("__str__", [method.name for method in waiting])
+        seen = set()
+        while waiting:
+            function = waiting.pop()
+            for node in ast.walk(function):
+                if isinstance(node, ast.Call) and isinstance(node.func, ast.Attribute):
+                    self.assertNotIn(node.func.attr, names, (function.name, node.lineno))
+                if isinstance(node, ast.Call) and isinstance(node.func, ast.Name):
+                    if node.func.id not in seen:
+                        seen.add(node.func.id)
+                        waiting.extend(called for called in functions if called.name == node.func.id)
+
+    def test_returns_of_str_and_repr(self):
+        """What `__str__` and `__repr__` return is a string, an f-string, or a call of `str` or `repr` (L28)."""
+        for path, tree in parsed():
+            for function in ast.walk(tree):
+                if not isinstance(function, ast.FunctionDef) or function.name not in ("__str__", "__repr__"):
+                    continue
+                self.assertIsInstance(function.body[-1], ast.Return, path)
+                for node in ast.walk(function):
+                    if isinstance(node, ast.Return):
+                        told = node.value
+                        if isinstance(told, ast.Call):
+                            self.assertIn(ast.unparse(told.func), ("str", "repr"), path)
+                        else:
+                            self.assertIsInstance(told, (ast.JoinedStr, ast.Constant), path)
+
     def test_module_level(self):
         for path, tree in parsed():
             for at, node in enumerate(tree.body):
